@@ -1,0 +1,163 @@
+package tests
+
+import (
+	"fmt"
+	"math"
+	"slices"
+	"strings"
+	"sync"
+	"testing"
+
+	"loop.example/g01055/impl"
+)
+
+// A probe is a call of a function with its arguments, whose results are told as a text.
+type probe struct {
+	name string
+	call func() string
+}
+
+func told(results ...any) string { return fmt.Sprintf("%#v", results) }
+
+func probeNumbers() []int64 {
+	list := []int64{
+		math.MinInt64, math.MinInt64 + 1, -maxAngle - 1, -maxAngle, -turn - 1, -turn, -half - 1, -half, -quarter - 1, -quarter, -1,
+		0, 1, 10, 11, 899, 900, quarter, quarter + 1, half - 1, half, turn - 900, turn - 1, turn, maxAngle, maxAngle + 1, 1 << 32,
+		999999999999999999, 1000000000000000000, math.MaxInt64 - 1, math.MaxInt64,
+	}
+	return list
+}
+
+func probeTexts() []string {
+	list := []string{
+		"", " ", "a", "gore-3", "a b  c ", "-", "0", "-0", "-1", "7h00m", "13h05m", "24h00m", "h", "m", "52.00.30n 1.15.00w", "n e", ". .", "..n ..e",
+		"999999999999999999.00.00n 1.00.00e", "9223372036854775807", "\x00", "\xff\xfe", "é", "\u2003", "\ufffd", "n", "é.00.00n 0.00.00e",
+	}
+	for _, s := range []string{" ", "0", "9", "a", ".", "h", "m", "n", "e", "-", "é", "\xff", "a ", "1h00m ", "0.00.00n "} {
+		list = append(list, strings.Repeat(s, 50000))
+	}
+	return list
+}
+
+func probeSpots() []impl.Spot {
+	var list []impl.Spot
+	for _, lat := range probeNumbers() {
+		for _, lon := range probeNumbers() {
+			list = append(list, impl.Spot{Lat: lat, Lon: lon})
+		}
+	}
+	return list
+}
+
+func textProbes(texts []string) []probe {
+	var list []probe
+	for _, s := range texts {
+		arg := quoted(s)
+		list = append(list,
+			probe{"IsName " + arg, func() string { return told(impl.IsName(s)) }},
+			probe{"ReadDecimal " + arg, func() string { return told(impl.ReadDecimal(s)) }},
+			probe{"SplitWords " + arg, func() string { return told(impl.SplitWords(s)) }},
+			probe{"ReadHour " + arg, func() string { return told(impl.ReadHour(s)) }},
+			probe{"ReadSpot " + arg, func() string { return told(impl.ReadSpot(s)) }})
+	}
+	return list
+}
+
+func numberProbes() []probe {
+	var list []probe
+	for _, n := range probeNumbers() {
+		arg := fmt.Sprint(n)
+		list = append(list,
+			probe{"CodeName " + arg, func() string { return told(impl.CodeName(n)) }},
+			probe{"Decimal " + arg, func() string { return told(impl.Decimal(n)) }},
+			probe{"WrapLon " + arg, func() string { return told(impl.WrapLon(n)) }},
+			probe{"HourText " + arg, func() string { return told(impl.HourText(n)) }})
+		for _, m := range probeNumbers() {
+			list = append(list, probe{"LonDifference " + arg + " " + fmt.Sprint(m), func() string { return told(impl.LonDifference(n, m)) }})
+		}
+	}
+	return list
+}
+
+func spotProbes() []probe {
+	var list []probe
+	for _, p := range probeSpots() {
+		arg := name(p)
+		list = append(list,
+			probe{"ValidSpot " + arg, func() string { return told(impl.ValidSpot(p)) }},
+			probe{"Antipode " + arg, func() string { return told(impl.Antipode(p)) }},
+			probe{"SpotText " + arg, func() string { return told(impl.SpotText(p)) }})
+		for _, n := range probeNumbers() {
+			list = append(list, probe{"TurnSpot " + arg + " " + fmt.Sprint(n), func() string { return told(impl.TurnSpot(p, n)) }})
+		}
+	}
+	return list
+}
+
+// resultOf makes the call; a panic is an error.
+func (x probe) resultOf(t *testing.T) (result string) {
+	defer func() {
+		if r := recover(); r != nil {
+			t.Errorf("%s panics: %v", x.name, r)
+		}
+	}()
+	return x.call()
+}
+
+// TestEveryFunctionReturnsAndRepeats makes all calls, makes them once more in the reverse order, and then at the same time, so that a
+// result that depends on calls before it or beside it is noticed.
+func TestEveryFunctionReturnsAndRepeats(t *testing.T) {
+	texts := probeTexts()
+	copies := make([]string, len(texts))
+	for i, s := range texts {
+		copies[i] = strings.Clone(s)
+	}
+	probes := slices.Concat(textProbes(texts), numberProbes(), spotProbes())
+	first := make([]string, len(probes))
+	for i, x := range probes {
+		first[i] = x.resultOf(t)
+	}
+	for i, x := range slices.Backward(probes) {
+		same(t, x.name, x.resultOf(t), first[i])
+	}
+	var all sync.WaitGroup
+	for k := range 4 {
+		all.Go(func() {
+			for i := k; i < len(probes); i += 4 {
+				same(t, probes[i].name, probes[i].resultOf(t), first[i])
+			}
+		})
+	}
+	all.Wait()
+	if !slices.Equal(texts, copies) {
+		t.Error("a text was modified")
+	}
+}
+
+func TestEqualTextsHaveEqualResults(t *testing.T) {
+	texts := probeTexts()
+	copies := make([]string, len(texts))
+	for i, s := range texts {
+		copies[i] = strings.Clone("x" + s)[1:]
+	}
+	others := textProbes(copies)
+	for i, x := range textProbes(texts) {
+		same(t, x.name, others[i].resultOf(t), x.resultOf(t))
+	}
+}
+
+// TestWordsAreNewMemory changes a result, with what lies behind it, and asks again.
+func TestWordsAreNewMemory(t *testing.T) {
+	for _, s := range []string{"a", "a b", " sine 108000 ", strings.Repeat("b ", 100)} {
+		first := impl.SplitWords(s)
+		other := impl.SplitWords(s)
+		want := slices.Clone(first)
+		spoilt := first[:cap(first)]
+		for i := range spoilt {
+			spoilt[i] = "spoilt"
+		}
+		if !slices.Equal(other, want) || !slices.Equal(impl.SplitWords(s), want) {
+			t.Errorf("SplitWords %s: a change of one result shows in another one", quoted(s))
+		}
+	}
+}
