@@ -16,6 +16,8 @@ const (
 	half     = 648000
 	quarter  = 324000
 	maxAngle = 1000000000
+	unit     = 1000000
+	maxTable = 100
 )
 
 func same[T comparable](t *testing.T, what string, got, want T) {

@@ -22,7 +22,7 @@ func told(results ...any) string { return fmt.Sprintf("%#v", results) }
 func probeNumbers() []int64 {
 	list := []int64{
 		math.MinInt64, math.MinInt64 + 1, -maxAngle - 1, -maxAngle, -turn - 1, -turn, -half - 1, -half, -quarter - 1, -quarter, -1,
-		0, 1, 10, 11, 899, 900, quarter, quarter + 1, half - 1, half, turn - 900, turn - 1, turn, maxAngle, maxAngle + 1, 1 << 32,
+		0, 1, 10, 11, 99, 100, 101, 899, 900, 108000, quarter - 1, quarter, quarter + 1, half - 1, half, turn - 900, unit - 1, unit, unit + 1, turn - quarter, turn - 1, turn, maxAngle, maxAngle + 1, 1 << 32,
 		999999999999999999, 1000000000000000000, math.MaxInt64 - 1, math.MaxInt64,
 	}
 	return list
@@ -79,6 +79,28 @@ func numberProbes() []probe {
 	return list
 }
 
+func sineProbes() []probe {
+	var list []probe
+	for _, n := range probeNumbers() {
+		arg := fmt.Sprint(n)
+		list = append(list,
+			probe{"SineOf " + arg, func() string { return told(impl.SineOf(n)) }},
+			probe{"CosineOf " + arg, func() string { return told(impl.CosineOf(n)) }},
+			probe{"TangentOf " + arg, func() string { return told(impl.TangentOf(n)) }},
+			probe{"ArcOf " + arg, func() string { return told(impl.ArcOf(n)) }},
+			probe{"ChordOf " + arg, func() string { return told(impl.ChordOf(n)) }})
+		for _, m := range probeNumbers() {
+			both := arg + " " + fmt.Sprint(m)
+			list = append(list,
+				probe{"SineTable " + both, func() string { return told(impl.SineTable(n, m)) }},
+				probe{"BetweenSine " + both, func() string { return told(impl.BetweenSine(n, m)) }},
+				probe{"WidthAt " + both, func() string { return told(impl.WidthAt(n, m)) }},
+				probe{"WorstStep " + both, func() string { return told(impl.WorstStep(n, m)) }})
+		}
+	}
+	return list
+}
+
 func spotProbes() []probe {
 	var list []probe
 	for _, p := range probeSpots() {
@@ -112,7 +134,7 @@ func TestEveryFunctionReturnsAndRepeats(t *testing.T) {
 	for i, s := range texts {
 		copies[i] = strings.Clone(s)
 	}
-	probes := slices.Concat(textProbes(texts), numberProbes(), spotProbes())
+	probes := slices.Concat(textProbes(texts), numberProbes(), sineProbes(), spotProbes())
 	first := make([]string, len(probes))
 	for i, x := range probes {
 		first[i] = x.resultOf(t)
@@ -159,5 +181,25 @@ func TestWordsAreNewMemory(t *testing.T) {
 		if !slices.Equal(other, want) || !slices.Equal(impl.SplitWords(s), want) {
 			t.Errorf("SplitWords %s: a change of one result shows in another one", quoted(s))
 		}
+	}
+}
+
+// TestTablesAreNewMemory changes a table, with what lies behind it, and asks again.
+func TestTablesAreNewMemory(t *testing.T) {
+	for _, x := range [][2]int64{{108000, 3}, {1, 1}, {quarter, 100}, {900, 99}} {
+		first, _ := impl.SineTable(x[0], x[1])
+		other, _ := impl.SineTable(x[0], x[1])
+		worst, _ := impl.WorstStep(x[0], x[1])
+		want := slices.Clone(first)
+		spoilt := first[:cap(first)]
+		for i := range spoilt {
+			spoilt[i] = -7 * int64(i+1)
+		}
+		again, _ := impl.SineTable(x[0], x[1])
+		if !slices.Equal(other, want) || !slices.Equal(again, want) {
+			t.Errorf("SineTable %v: a change of one result shows in another one", x)
+		}
+		worstAgain, _ := impl.WorstStep(x[0], x[1])
+		same(t, "WorstStep after a change of a table", worstAgain, worst)
 	}
 }
