@@ -45,7 +45,7 @@ type sides struct {
 
 // ValidSpot reports whether p is valid.
 func ValidSpot(p Spot) bool {
-	return within(p.Lat, -Quarter, Quarter) && within(p.Lon, -2*Quarter, 2*Quarter-1)
+	return isLat(p.Lat) && within(p.Lon, -2*Quarter, 2*Quarter-1)
 }
 
 // WrapLon returns the longitude of an angle.
@@ -130,6 +130,10 @@ func ReadSpot(s string) (Spot, bool) {
 
 func isAngle(n int64) bool {
 	return within(n, -MaxAngle, MaxAngle)
+}
+
+func isLat(n int64) bool {
+	return within(n, -Quarter, Quarter)
 }
 
 // wrap is WrapLon without its limits, for sums and differences of angles.

@@ -83,6 +83,11 @@ func wrongAngles() []int64 {
 	return []int64{-maxAngle - 1, maxAngle + 1, math.MinInt64, math.MinInt64 + 1, math.MaxInt64 - 1, math.MaxInt64}
 }
 
+// wrongLats returns numbers that are no latitudes.
+func wrongLats() []int64 {
+	return []int64{quarter + 1, -quarter - 1, half, -half, turn, -turn, math.MinInt64, math.MaxInt64}
+}
+
 // nearTexts returns the texts that differ from s by one character that is left out, put in or replaced.
 func nearTexts(s, characters string) []string {
 	var list []string

@@ -297,14 +297,13 @@ func TestWidthAt(t *testing.T) {
 }
 
 func TestErrorsOfWidthAt(t *testing.T) {
-	wrongLats := []int64{quarter + 1, -quarter - 1, half, -half, turn, math.MinInt64, math.MaxInt64}
 	for _, width := range []int64{-1, unit + 1, -unit, math.MinInt64, math.MaxInt64} {
-		for _, lat := range append(wrongLats, 0, 216000, quarter, -quarter) {
+		for _, lat := range append(wrongLats(), 0, 216000, quarter, -quarter) {
 			same(t, fmt.Sprint("WidthAt ", width, lat), resultOf(impl.WidthAt(width, lat)), outOfRange)
 		}
 	}
 	for _, width := range []int64{0, 1000, unit} {
-		for _, lat := range wrongLats {
+		for _, lat := range wrongLats() {
 			same(t, fmt.Sprint("WidthAt ", width, lat), resultOf(impl.WidthAt(width, lat)), outOfRange)
 		}
 	}

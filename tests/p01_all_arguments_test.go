@@ -49,6 +49,20 @@ func probeSpots() []impl.Spot {
 	return list
 }
 
+// probeSpotLists returns lists of spots, the last of them much too long; each has some capacity behind its end.
+func probeSpotLists() [][]impl.Spot {
+	mixed := append(drawnSpots()[:50:50], wrongSpots()...)
+	lists := [][]impl.Spot{
+		nil, {}, {{}}, {{Lon: -1}, {Lon: 5}, {Lon: 7}}, {{Lat: quarter, Lon: half - 1}, {Lat: -quarter, Lon: -half}, {Lat: quarter, Lon: half - 1}},
+		drawnSpots()[:100], drawnSpots()[50:150], drawnSpots()[:101], wrongSpots(), mixed, make([]impl.Spot, 100000),
+	}
+	for i, list := range lists {
+		longer := append(slices.Clone(list), impl.Spot{Lat: 77, Lon: -77}, impl.Spot{Lat: math.MinInt64, Lon: math.MaxInt64})
+		lists[i] = longer[:len(list)]
+	}
+	return lists
+}
+
 func textProbes(texts []string) []probe {
 	var list []probe
 	for _, s := range texts {
@@ -116,6 +130,53 @@ func spotProbes() []probe {
 	return list
 }
 
+// goreProbeNumbers has numbers of gores, and numbers that are none.
+func goreProbeNumbers() []int64 {
+	return []int64{math.MinInt64, -turn, -12, -1, 0, 1, 5, 6, 7, 12, 25, 45, 48, 49, 50, turn, math.MaxInt64}
+}
+
+// sizeProbeNumbers has numbers about the limits of circumferences, latitudes, steps, papers and gores.
+func sizeProbeNumbers() []int64 {
+	return []int64{
+		math.MinInt64, math.MinInt64 + 1, -turn, -quarter - 1, -quarter, -quarter + 1, -1, 0, 1, 6, 12, 47, 48, 1000, leastStep - 1, leastStep,
+		maxPaper, maxPaper + 1, 216000, quarter - 1, quarter, quarter + 1, maxAround, maxAround + 1, 1 << 32, math.MaxInt64 - 1, math.MaxInt64,
+	}
+}
+
+func goreProbes() []probe {
+	var list []probe
+	for _, n := range goreProbeNumbers() {
+		arg := fmt.Sprint(n)
+		list = append(list,
+			probe{"ValidGores " + arg, func() string { return told(impl.ValidGores(n)) }},
+			probe{"GoreSpan " + arg, func() string { return told(impl.GoreSpan(n)) }})
+		for _, p := range probeSpots() {
+			list = append(list, probe{"GoreOf " + arg + " " + name(p), func() string { return told(impl.GoreOf(n, p)) }})
+		}
+		for i, spots := range probeSpotLists() {
+			list = append(list, probe{"GoresTouched " + arg + " list " + fmt.Sprint(i), func() string { return told(impl.GoresTouched(n, spots)) }})
+		}
+		for _, a := range sizeProbeNumbers() {
+			list = append(list, probe{"GoreMiddle " + arg + " " + fmt.Sprint(a), func() string { return told(impl.GoreMiddle(n, a)) }})
+			for _, b := range sizeProbeNumbers() {
+				all := arg + " " + fmt.Sprint(a, b)
+				list = append(list,
+					probe{"GoreWidth " + all, func() string { return told(impl.GoreWidth(n, a, b)) }},
+					probe{"GoreWidths " + all, func() string { return told(impl.GoreWidths(n, a, b)) }},
+					probe{"ClosingAt " + all, func() string { return told(impl.ClosingAt(n, a, b)) }},
+					probe{"WorstClosing " + all, func() string { return told(impl.WorstClosing(n, a, b)) }},
+					probe{"SheetsForGores " + all, func() string { return told(impl.SheetsForGores(n, a, b)) }})
+			}
+		}
+	}
+	for _, a := range sizeProbeNumbers() {
+		for _, b := range sizeProbeNumbers() {
+			list = append(list, probe{"FewestGores " + fmt.Sprint(a, b), func() string { return told(impl.FewestGores(a, b)) }})
+		}
+	}
+	return list
+}
+
 // resultOf makes the call; a panic is an error.
 func (x probe) resultOf(t *testing.T) (result string) {
 	defer func() {
@@ -134,7 +195,7 @@ func TestEveryFunctionReturnsAndRepeats(t *testing.T) {
 	for i, s := range texts {
 		copies[i] = strings.Clone(s)
 	}
-	probes := slices.Concat(textProbes(texts), numberProbes(), sineProbes(), spotProbes())
+	probes := slices.Concat(textProbes(texts), numberProbes(), sineProbes(), spotProbes(), goreProbes())
 	first := make([]string, len(probes))
 	for i, x := range probes {
 		first[i] = x.resultOf(t)
@@ -201,5 +262,59 @@ func TestTablesAreNewMemory(t *testing.T) {
 		}
 		worstAgain, _ := impl.WorstStep(x[0], x[1])
 		same(t, "WorstStep after a change of a table", worstAgain, worst)
+	}
+}
+
+// TestListsOfSpotsAreNotModified looks at what lies behind a list as well.
+func TestListsOfSpotsAreNotModified(t *testing.T) {
+	for i, list := range probeSpotLists() {
+		whole := list[:cap(list)]
+		before := slices.Clone(whole)
+		for _, gores := range goreProbeNumbers() {
+			impl.GoresTouched(gores, list)
+			if !slices.Equal(whole, before) {
+				t.Errorf("GoresTouched %d: the list %d was modified", gores, i)
+			}
+		}
+	}
+}
+
+// Equal lists are told equal gores, whatever memory they lie in.
+func TestEqualListsHaveEqualGores(t *testing.T) {
+	for i, list := range probeSpotLists() {
+		for _, gores := range goreProbeNumbers() {
+			what := fmt.Sprint("GoresTouched ", gores, " list ", i)
+			same(t, what, told(impl.GoresTouched(gores, slices.Clip(slices.Clone(list)))), told(impl.GoresTouched(gores, list)))
+		}
+	}
+	for _, gores := range goreProbeNumbers() {
+		none, code := impl.GoresTouched(gores, nil)
+		empty, other := impl.GoresTouched(gores, []impl.Spot{})
+		same(t, "gores of no places", len(none)+len(empty), 0)
+		same(t, "GoresTouched of no places", code, other)
+	}
+}
+
+// TestGoresAreNewMemory changes lists of widths and of gores, with what lies behind them, and asks again.
+func TestGoresAreNewMemory(t *testing.T) {
+	spots := drawnSpots()[:100]
+	for _, gores := range rightGores() {
+		for what, ask := range map[string]func() ([]int64, int64){
+			"GoreWidths":   func() ([]int64, int64) { return impl.GoreWidths(gores, 1000, leastStep) },
+			"GoresTouched": func() ([]int64, int64) { return impl.GoresTouched(gores, spots) },
+		} {
+			first, _ := ask()
+			other, _ := ask()
+			want := slices.Clone(first)
+			spoilt := first[:cap(first)]
+			for i := range spoilt {
+				spoilt[i] = -7 * int64(i+1)
+			}
+			again, _ := ask()
+			if !slices.Equal(other, want) || !slices.Equal(again, want) {
+				t.Errorf("%s %d: a change of one result shows in another one", what, gores)
+			}
+		}
+		same(t, "ValidGores after a change", impl.ValidGores(gores), true)
 	}
 }
