@@ -177,6 +177,57 @@ func goreProbes() []probe {
 	return list
 }
 
+// routeProbeLists returns lists of spots about the limits of routes, with and without spots that are not valid; each has some capacity
+// behind its end.
+func routeProbeLists() [][]impl.Spot {
+	lists := probeSpotLists()
+	for _, list := range drawnSpotLists() {
+		lists = append(lists, append(slices.Clone(list), impl.Spot{Lat: 77}, impl.Spot{Lon: math.MinInt64})[:len(list)])
+	}
+	for _, many := range []int{1, 2, maxVisits, maxVisits + 1, maxRoute, maxRoute + 1} {
+		wrong := make([]impl.Spot, many, many+3)
+		wrong[many-1] = impl.Spot{Lat: math.MaxInt64, Lon: math.MinInt64}
+		lists = append(lists, atPole(many), make([]impl.Spot, many, 2*many), wrong)
+	}
+	return lists
+}
+
+func pairProbes() []probe {
+	spots := append(wrongSpots(), impl.Spot{}, impl.Spot{Lon: 1}, impl.Spot{Lat: 36000}, impl.Spot{Lat: -36000, Lon: -half}, impl.Spot{Lat: quarter, Lon: half - 1})
+	var list []probe
+	for _, a := range slices.Concat(spots, drawnSpots()[:40]) {
+		for _, b := range slices.Concat(spots, drawnSpots()[100:140]) {
+			arg := name(a) + " " + name(b)
+			list = append(list,
+				probe{"CosDistance " + arg, func() string { return told(impl.CosDistance(a, b)) }},
+				probe{"DistanceOf " + arg, func() string { return told(impl.DistanceOf(a, b)) }})
+		}
+	}
+	return list
+}
+
+// routeProbes has the calls of all functions of distances with a list; the names of the lists are their indices.
+func routeProbes(lists [][]impl.Spot) []probe {
+	var list []probe
+	for i, spots := range lists {
+		arg := "list " + fmt.Sprint(i)
+		list = append(list,
+			probe{"FarthestPair " + arg, func() string { return told(impl.FarthestPair(spots)) }},
+			probe{"RouteLength " + arg, func() string { return told(impl.RouteLength(spots)) }},
+			probe{"ShortestRoute " + arg, func() string { return told(impl.ShortestRoute(spots)) }},
+			probe{"MiddleSpot " + arg, func() string { return told(impl.MiddleSpot(spots)) }},
+			probe{"DistanceTable " + arg, func() string { return told(impl.DistanceTable(spots)) }})
+		for _, a := range []impl.Spot{{}, {Lat: -quarter, Lon: 5}, {Lat: quarter + 1}, {Lat: math.MinInt64, Lon: math.MaxInt64}} {
+			list = append(list, probe{"NearestSpot " + arg + " " + name(a), func() string { return told(impl.NearestSpot(spots, a)) }})
+			for _, most := range []int64{math.MinInt64, -1, 0, 108000, half, half + 1, math.MaxInt64} {
+				all := arg + " " + name(a) + " " + fmt.Sprint(most)
+				list = append(list, probe{"SpotsWithin " + all, func() string { return told(impl.SpotsWithin(spots, a, most)) }})
+			}
+		}
+	}
+	return list
+}
+
 // resultOf makes the call; a panic is an error.
 func (x probe) resultOf(t *testing.T) (result string) {
 	defer func() {
@@ -195,7 +246,7 @@ func TestEveryFunctionReturnsAndRepeats(t *testing.T) {
 	for i, s := range texts {
 		copies[i] = strings.Clone(s)
 	}
-	probes := slices.Concat(textProbes(texts), numberProbes(), sineProbes(), spotProbes(), goreProbes())
+	probes := slices.Concat(textProbes(texts), numberProbes(), sineProbes(), spotProbes(), goreProbes(), pairProbes(), routeProbes(routeProbeLists()))
 	first := make([]string, len(probes))
 	for i, x := range probes {
 		first[i] = x.resultOf(t)
@@ -316,5 +367,87 @@ func TestGoresAreNewMemory(t *testing.T) {
 			}
 		}
 		same(t, "ValidGores after a change", impl.ValidGores(gores), true)
+	}
+}
+
+// TestRoutesDoNotModifyLists looks at what lies behind a list as well.
+func TestRoutesDoNotModifyLists(t *testing.T) {
+	lists := routeProbeLists()
+	var before [][]impl.Spot
+	for _, list := range lists {
+		before = append(before, slices.Clone(list[:cap(list)]))
+	}
+	for _, x := range routeProbes(lists) {
+		x.resultOf(t)
+	}
+	for i, list := range lists {
+		if !slices.Equal(list[:cap(list)], before[i]) {
+			t.Errorf("the list %d was modified", i)
+		}
+	}
+}
+
+// Equal lists have equal distances and routes, whatever memory they lie in.
+func TestEqualListsHaveEqualRoutes(t *testing.T) {
+	lists := routeProbeLists()
+	var copies [][]impl.Spot
+	for _, list := range lists {
+		copies = append(copies, slices.Clip(slices.Clone(list)))
+	}
+	others := routeProbes(copies)
+	for i, x := range routeProbes(lists) {
+		same(t, x.name, others[i].resultOf(t), x.resultOf(t))
+	}
+}
+
+// TestRoutesAreNewMemory changes lists of spots within a distance and orders, with what lies behind them, and asks again.
+func TestRoutesAreNewMemory(t *testing.T) {
+	for i, list := range drawnSpotLists() {
+		for what, ask := range map[string]func() []int64{
+			"SpotsWithin": func() []int64 {
+				near, _ := impl.SpotsWithin(list, impl.Spot{}, half)
+				return near
+			},
+			"ShortestRoute": func() []int64 {
+				order, _, _ := impl.ShortestRoute(list)
+				return order
+			},
+		} {
+			first, other := ask(), ask()
+			want := slices.Clone(first)
+			spoilt := first[:cap(first)]
+			for k := range spoilt {
+				spoilt[k] = -7 * int64(k+1)
+			}
+			if !slices.Equal(other, want) || !slices.Equal(ask(), want) {
+				t.Errorf("%s of the list %d: a change of one result shows in another one", what, i)
+			}
+		}
+	}
+}
+
+// TestRowsOfDistancesAreNewMemory changes one row after the other, with what lies behind it, and looks at the other rows and at other tables.
+func TestRowsOfDistancesAreNewMemory(t *testing.T) {
+	for i, list := range drawnSpotLists() {
+		first, _ := impl.DistanceTable(list)
+		other, _ := impl.DistanceTable(list)
+		want := ruleTable(list)
+		for k, row := range first {
+			if !slices.Equal(row, want[k]) {
+				t.Errorf("DistanceTable of the list %d: the row %d shows a change of another one", i, k)
+			}
+			spoilt := row[:cap(row)]
+			for j := range spoilt {
+				spoilt[j] = -7
+			}
+		}
+		spoiltTable := first[:cap(first)]
+		for k := range spoiltTable {
+			spoiltTable[k] = nil
+		}
+		checkTable(t, list, want)
+		if !slices.EqualFunc(other, want, slices.Equal) {
+			t.Errorf("DistanceTable of the list %d: a change of one table shows in another one", i)
+		}
 	}
 }
