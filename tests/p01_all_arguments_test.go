@@ -228,6 +228,57 @@ func routeProbes(lists [][]impl.Spot) []probe {
 	return list
 }
 
+// capProbeNumbers has numbers about the limits of circumferences, radii and widths.
+func capProbeNumbers() []int64 {
+	return []int64{math.MinInt64, math.MinInt64 + 1, -1, 0, 1, 8, 60, 61, 90, 91, 360, maxRadius, maxRadius + 1, maxAround, maxAround + 1, 1 << 62, math.MaxInt64}
+}
+
+func capProbes() []probe {
+	var list []probe
+	for _, a := range sizeProbeNumbers() {
+		for _, b := range slices.Concat(sizeProbeNumbers(), []int64{half, turn, turn + 1}) {
+			arg := fmt.Sprint(a, b)
+			list = append(list,
+				probe{"ArcLength " + arg, func() string { return told(impl.ArcLength(a, b)) }},
+				probe{"CapRadius " + arg, func() string { return told(impl.CapRadius(a, b)) }},
+				probe{"CapEdge " + arg, func() string { return told(impl.CapEdge(a, b)) }},
+				probe{"RimExcess " + arg, func() string { return told(impl.RimExcess(a, b)) }},
+				probe{"RingsOf " + arg, func() string { return told(impl.RingsOf(a, b)) }})
+			for _, c := range capProbeNumbers() {
+				all := arg + " " + fmt.Sprint(c)
+				list = append(list,
+					probe{"SlitsFor " + all, func() string { return told(impl.SlitsFor(a, b, c)) }},
+					probe{"CapOverlap " + all, func() string { return told(impl.CapOverlap(a, c, b)) }},
+					probe{"SmallestCap " + all, func() string { return told(impl.SmallestCap(a, b, c)) }})
+			}
+		}
+	}
+	spots := append(wrongSpots(), impl.Spot{}, impl.Spot{Lat: quarter}, impl.Spot{Lat: 252000, Lon: -half}, impl.Spot{Lat: -quarter, Lon: half - 1})
+	for _, around := range capProbeNumbers() {
+		for _, radius := range capProbeNumbers() {
+			for _, width := range capProbeNumbers() {
+				for _, p := range spots {
+					all := fmt.Sprint(around, radius, width, " ", name(p))
+					list = append(list, probe{"RingOf " + all, func() string { return told(impl.RingOf(around, radius, width, p)) }})
+				}
+			}
+		}
+	}
+	return list
+}
+
+// discProbes has the calls of UnderCap; the names of the lists are their indices.
+func discProbes(lists [][]impl.Spot) []probe {
+	var list []probe
+	for i, spots := range lists {
+		for _, x := range [][2]int64{{360, 20}, {360, 90}, {360, 91}, {1, 0}, {maxAround, maxRadius}, {0, 20}, {maxAround + 1, -1}, {math.MinInt64, math.MaxInt64}, {math.MaxInt64, math.MinInt64}} {
+			arg := "list " + fmt.Sprint(i, x)
+			list = append(list, probe{"UnderCap " + arg, func() string { return told(impl.UnderCap(x[0], x[1], spots)) }})
+		}
+	}
+	return list
+}
+
 // resultOf makes the call; a panic is an error.
 func (x probe) resultOf(t *testing.T) (result string) {
 	defer func() {
@@ -238,6 +289,50 @@ func (x probe) resultOf(t *testing.T) (result string) {
 	return x.call()
 }
 
+// checkListsStay makes all calls with the lists and looks at the lists, and at what lies behind them.
+func checkListsStay(t *testing.T, lists [][]impl.Spot, probesOf func([][]impl.Spot) []probe) {
+	t.Helper()
+	var before [][]impl.Spot
+	for _, list := range lists {
+		before = append(before, slices.Clone(list[:cap(list)]))
+	}
+	for _, x := range probesOf(lists) {
+		x.resultOf(t)
+	}
+	for i, list := range lists {
+		if !slices.Equal(list[:cap(list)], before[i]) {
+			t.Errorf("the list %d was modified", i)
+		}
+	}
+}
+
+// checkCopies makes all calls with the lists and with copies of them that lie in other memory.
+func checkCopies(t *testing.T, lists [][]impl.Spot, probesOf func([][]impl.Spot) []probe) {
+	t.Helper()
+	var copies [][]impl.Spot
+	for _, list := range lists {
+		copies = append(copies, slices.Clip(slices.Clone(list)))
+	}
+	others := probesOf(copies)
+	for i, x := range probesOf(lists) {
+		same(t, x.name, others[i].resultOf(t), x.resultOf(t))
+	}
+}
+
+// checkNewMemory changes a result, with what lies behind it, and asks again.
+func checkNewMemory(t *testing.T, what string, ask func() []int64) {
+	t.Helper()
+	first, other := ask(), ask()
+	want := slices.Clone(first)
+	spoilt := first[:cap(first)]
+	for i := range spoilt {
+		spoilt[i] = -7 * int64(i+1)
+	}
+	if !slices.Equal(other, want) || !slices.Equal(ask(), want) {
+		t.Errorf("%s: a change of one result shows in another one", what)
+	}
+}
+
 // TestEveryFunctionReturnsAndRepeats makes all calls, makes them once more in the reverse order, and then at the same time, so that a
 // result that depends on calls before it or beside it is noticed.
 func TestEveryFunctionReturnsAndRepeats(t *testing.T) {
@@ -246,7 +341,9 @@ func TestEveryFunctionReturnsAndRepeats(t *testing.T) {
 	for i, s := range texts {
 		copies[i] = strings.Clone(s)
 	}
-	probes := slices.Concat(textProbes(texts), numberProbes(), sineProbes(), spotProbes(), goreProbes(), pairProbes(), routeProbes(routeProbeLists()))
+	probes := slices.Concat(
+		textProbes(texts), numberProbes(), sineProbes(), spotProbes(), goreProbes(), pairProbes(), routeProbes(routeProbeLists()),
+		capProbes(), discProbes(probeSpotLists()))
 	first := make([]string, len(probes))
 	for i, x := range probes {
 		first[i] = x.resultOf(t)
@@ -346,83 +443,39 @@ func TestEqualListsHaveEqualGores(t *testing.T) {
 	}
 }
 
-// TestGoresAreNewMemory changes lists of widths and of gores, with what lies behind them, and asks again.
 func TestGoresAreNewMemory(t *testing.T) {
 	spots := drawnSpots()[:100]
 	for _, gores := range rightGores() {
-		for what, ask := range map[string]func() ([]int64, int64){
-			"GoreWidths":   func() ([]int64, int64) { return impl.GoreWidths(gores, 1000, leastStep) },
-			"GoresTouched": func() ([]int64, int64) { return impl.GoresTouched(gores, spots) },
-		} {
-			first, _ := ask()
-			other, _ := ask()
-			want := slices.Clone(first)
-			spoilt := first[:cap(first)]
-			for i := range spoilt {
-				spoilt[i] = -7 * int64(i+1)
-			}
-			again, _ := ask()
-			if !slices.Equal(other, want) || !slices.Equal(again, want) {
-				t.Errorf("%s %d: a change of one result shows in another one", what, gores)
-			}
-		}
+		checkNewMemory(t, fmt.Sprint("GoreWidths ", gores), func() []int64 {
+			widths, _ := impl.GoreWidths(gores, 1000, leastStep)
+			return widths
+		})
+		checkNewMemory(t, fmt.Sprint("GoresTouched ", gores), func() []int64 {
+			touched, _ := impl.GoresTouched(gores, spots)
+			return touched
+		})
 		same(t, "ValidGores after a change", impl.ValidGores(gores), true)
 	}
 }
 
-// TestRoutesDoNotModifyLists looks at what lies behind a list as well.
 func TestRoutesDoNotModifyLists(t *testing.T) {
-	lists := routeProbeLists()
-	var before [][]impl.Spot
-	for _, list := range lists {
-		before = append(before, slices.Clone(list[:cap(list)]))
-	}
-	for _, x := range routeProbes(lists) {
-		x.resultOf(t)
-	}
-	for i, list := range lists {
-		if !slices.Equal(list[:cap(list)], before[i]) {
-			t.Errorf("the list %d was modified", i)
-		}
-	}
+	checkListsStay(t, routeProbeLists(), routeProbes)
 }
 
-// Equal lists have equal distances and routes, whatever memory they lie in.
 func TestEqualListsHaveEqualRoutes(t *testing.T) {
-	lists := routeProbeLists()
-	var copies [][]impl.Spot
-	for _, list := range lists {
-		copies = append(copies, slices.Clip(slices.Clone(list)))
-	}
-	others := routeProbes(copies)
-	for i, x := range routeProbes(lists) {
-		same(t, x.name, others[i].resultOf(t), x.resultOf(t))
-	}
+	checkCopies(t, routeProbeLists(), routeProbes)
 }
 
-// TestRoutesAreNewMemory changes lists of spots within a distance and orders, with what lies behind them, and asks again.
 func TestRoutesAreNewMemory(t *testing.T) {
 	for i, list := range drawnSpotLists() {
-		for what, ask := range map[string]func() []int64{
-			"SpotsWithin": func() []int64 {
-				near, _ := impl.SpotsWithin(list, impl.Spot{}, half)
-				return near
-			},
-			"ShortestRoute": func() []int64 {
-				order, _, _ := impl.ShortestRoute(list)
-				return order
-			},
-		} {
-			first, other := ask(), ask()
-			want := slices.Clone(first)
-			spoilt := first[:cap(first)]
-			for k := range spoilt {
-				spoilt[k] = -7 * int64(k+1)
-			}
-			if !slices.Equal(other, want) || !slices.Equal(ask(), want) {
-				t.Errorf("%s of the list %d: a change of one result shows in another one", what, i)
-			}
-		}
+		checkNewMemory(t, fmt.Sprint("SpotsWithin of the list ", i), func() []int64 {
+			near, _ := impl.SpotsWithin(list, impl.Spot{}, half)
+			return near
+		})
+		checkNewMemory(t, fmt.Sprint("ShortestRoute of the list ", i), func() []int64 {
+			order, _, _ := impl.ShortestRoute(list)
+			return order
+		})
 	}
 }
 
@@ -449,5 +502,30 @@ func TestRowsOfDistancesAreNewMemory(t *testing.T) {
 		if !slices.EqualFunc(other, want, slices.Equal) {
 			t.Errorf("DistanceTable of the list %d: a change of one table shows in another one", i)
 		}
+	}
+}
+
+func TestCapsDoNotModifyLists(t *testing.T) {
+	checkListsStay(t, probeSpotLists(), discProbes)
+}
+
+func TestEqualListsHaveEqualPlacesUnderACap(t *testing.T) {
+	checkCopies(t, probeSpotLists(), discProbes)
+	same(t, "UnderCap of no places", told(impl.UnderCap(360, 20, nil)), told(impl.UnderCap(360, 20, []impl.Spot{})))
+}
+
+func TestCapsAreNewMemory(t *testing.T) {
+	for _, x := range [][2]int64{{20, 8}, {60, 1}, {1, 1}, {maxRadius, maxRadius}} {
+		checkNewMemory(t, fmt.Sprint("RingsOf ", x), func() []int64 {
+			rings, _ := impl.RingsOf(x[0], x[1])
+			return rings
+		})
+	}
+	spots := drawnSpots()[50:150]
+	for _, x := range [][2]int64{{360, 90}, {1000, 77}, {1000, 0}} {
+		checkNewMemory(t, fmt.Sprint("UnderCap ", x), func() []int64 {
+			under, _ := impl.UnderCap(x[0], x[1], spots)
+			return under
+		})
 	}
 }
