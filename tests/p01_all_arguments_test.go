@@ -3,10 +3,12 @@ package tests
 import (
 	"fmt"
 	"math"
+	"runtime"
 	"slices"
 	"strings"
 	"sync"
 	"testing"
+	"time"
 
 	"loop.example/g01055/impl"
 )
@@ -279,6 +281,70 @@ func discProbes(lists [][]impl.Spot) []probe {
 	return list
 }
 
+// probeChains returns chains, and lists of places that are none, the last of them much too long; each has some capacity behind its end.
+func probeChains() [][]impl.Place {
+	chains := append(allChains(), chainOf(-1, 0, 0, 0), chainOf(0, 0, 0, maxPlace+1), chainOf(math.MinInt64, math.MaxInt64, math.MaxInt64, math.MinInt64, 5, 5))
+	for _, many := range []int{0, 1, maxChain + 1, 100000} {
+		chains = append(chains, make([]impl.Place, many))
+	}
+	chains = append(chains, nil)
+	for i, chain := range chains {
+		longer := append(slices.Clone(chain), impl.Place{X: 77, Y: 1}, impl.Place{X: math.MinInt64, Y: math.MaxInt64})
+		chains[i] = longer[:len(chain)]
+	}
+	return chains
+}
+
+// probePoints returns lists of indices, and of numbers that are none; each has some capacity behind its end.
+func probePoints() [][]int64 {
+	lists := slices.Concat(wrongPoints(2), wrongPoints(9), [][]int64{{0, 1}, {1, 2}, {0, 3}, {0, 8}, {22, 23}, {1, 24}}, [][]int64{allPoints(2), allPoints(4), allPoints(maxChain), allPoints(maxChain + 1)})
+	for i, points := range lists {
+		lists[i] = append(slices.Clone(points), 1, math.MinInt64)[:len(points)]
+	}
+	return lists
+}
+
+func chainProbeNumbers() []int64 {
+	return []int64{math.MinInt64, -1, 0, 1, 2, 3, maxChain - 1, maxChain, maxChain + 1, 1415, 2828, 2829, maxWithin, maxWithin + 1, 1 << 32, math.MaxInt64}
+}
+
+// chainProbes has the calls of all functions of outlines with one chain; the names of the chains are their indices.
+func chainProbes(chains [][]impl.Place) []probe {
+	var list []probe
+	for i, chain := range chains {
+		arg := "chain " + fmt.Sprint(i)
+		list = append(list,
+			probe{"ValidChain " + arg, func() string { return told(impl.ValidChain(chain)) }},
+			probe{"SameChain " + arg, func() string { return told(impl.SameChain(chain, chain), impl.SameChain(chain, chains[0])) }},
+			probe{"ReverseChain " + arg, func() string { return told(impl.ReverseChain(chain)) }},
+			probe{"LengthBounds " + arg, func() string { return told(impl.LengthBounds(chain)) }},
+			probe{"TurnsAside " + arg, func() string { return told(impl.TurnsAside(chain)) }})
+		for _, n := range chainProbeNumbers() {
+			all := arg + " " + fmt.Sprint(n)
+			list = append(list,
+				probe{"StaysWithin " + all, func() string { return told(impl.StaysWithin(chain, 0, 3, n)) }},
+				probe{"StaysWithin to " + all, func() string { return told(impl.StaysWithin(chain, 1, n, 10)) }},
+				probe{"StaysWithin from " + all, func() string { return told(impl.StaysWithin(chain, n, 8, n)) }},
+				probe{"FewestPoints " + all, func() string { return told(impl.FewestPoints(chain, n)) }},
+				probe{"LongSteps " + all, func() string { return told(impl.LongSteps(chain, n)) }},
+				probe{"LeastBound " + all, func() string { return told(impl.LeastBound(chain, n)) }})
+		}
+	}
+	return list
+}
+
+// pickProbes has the calls of PickPoints; the names of the lists are their indices.
+func pickProbes(lists [][]int64) []probe {
+	var list []probe
+	for i, points := range lists {
+		for k, chain := range [][]impl.Place{outlineOfExample(), chainOf(1, 1, 1, 1), roundabout(10), zigzag(maxChain), zigzag(maxChain + 1), nil} {
+			arg := fmt.Sprint("chain ", k, " points ", i)
+			list = append(list, probe{"PickPoints " + arg, func() string { return told(impl.PickPoints(chain, points)) }})
+		}
+	}
+	return list
+}
+
 // resultOf makes the call; a panic is an error.
 func (x probe) resultOf(t *testing.T) (result string) {
 	defer func() {
@@ -290,9 +356,9 @@ func (x probe) resultOf(t *testing.T) (result string) {
 }
 
 // checkListsStay makes all calls with the lists and looks at the lists, and at what lies behind them.
-func checkListsStay(t *testing.T, lists [][]impl.Spot, probesOf func([][]impl.Spot) []probe) {
+func checkListsStay[E comparable](t *testing.T, lists [][]E, probesOf func([][]E) []probe) {
 	t.Helper()
-	var before [][]impl.Spot
+	var before [][]E
 	for _, list := range lists {
 		before = append(before, slices.Clone(list[:cap(list)]))
 	}
@@ -307,9 +373,9 @@ func checkListsStay(t *testing.T, lists [][]impl.Spot, probesOf func([][]impl.Sp
 }
 
 // checkCopies makes all calls with the lists and with copies of them that lie in other memory.
-func checkCopies(t *testing.T, lists [][]impl.Spot, probesOf func([][]impl.Spot) []probe) {
+func checkCopies[E comparable](t *testing.T, lists [][]E, probesOf func([][]E) []probe) {
 	t.Helper()
-	var copies [][]impl.Spot
+	var copies [][]E
 	for _, list := range lists {
 		copies = append(copies, slices.Clip(slices.Clone(list)))
 	}
@@ -320,13 +386,13 @@ func checkCopies(t *testing.T, lists [][]impl.Spot, probesOf func([][]impl.Spot)
 }
 
 // checkNewMemory changes a result, with what lies behind it, and asks again.
-func checkNewMemory(t *testing.T, what string, ask func() []int64) {
+func checkNewMemory[E comparable](t *testing.T, what string, spoilt E, ask func() []E) {
 	t.Helper()
 	first, other := ask(), ask()
 	want := slices.Clone(first)
-	spoilt := first[:cap(first)]
-	for i := range spoilt {
-		spoilt[i] = -7 * int64(i+1)
+	whole := first[:cap(first)]
+	for i := range whole {
+		whole[i] = spoilt
 	}
 	if !slices.Equal(other, want) || !slices.Equal(ask(), want) {
 		t.Errorf("%s: a change of one result shows in another one", what)
@@ -343,7 +409,7 @@ func TestEveryFunctionReturnsAndRepeats(t *testing.T) {
 	}
 	probes := slices.Concat(
 		textProbes(texts), numberProbes(), sineProbes(), spotProbes(), goreProbes(), pairProbes(), routeProbes(routeProbeLists()),
-		capProbes(), discProbes(probeSpotLists()))
+		capProbes(), discProbes(probeSpotLists()), chainProbes(probeChains()), pickProbes(probePoints()))
 	first := make([]string, len(probes))
 	for i, x := range probes {
 		first[i] = x.resultOf(t)
@@ -446,11 +512,11 @@ func TestEqualListsHaveEqualGores(t *testing.T) {
 func TestGoresAreNewMemory(t *testing.T) {
 	spots := drawnSpots()[:100]
 	for _, gores := range rightGores() {
-		checkNewMemory(t, fmt.Sprint("GoreWidths ", gores), func() []int64 {
+		checkNewMemory(t, fmt.Sprint("GoreWidths ", gores), -7, func() []int64 {
 			widths, _ := impl.GoreWidths(gores, 1000, leastStep)
 			return widths
 		})
-		checkNewMemory(t, fmt.Sprint("GoresTouched ", gores), func() []int64 {
+		checkNewMemory(t, fmt.Sprint("GoresTouched ", gores), -7, func() []int64 {
 			touched, _ := impl.GoresTouched(gores, spots)
 			return touched
 		})
@@ -468,11 +534,11 @@ func TestEqualListsHaveEqualRoutes(t *testing.T) {
 
 func TestRoutesAreNewMemory(t *testing.T) {
 	for i, list := range drawnSpotLists() {
-		checkNewMemory(t, fmt.Sprint("SpotsWithin of the list ", i), func() []int64 {
+		checkNewMemory(t, fmt.Sprint("SpotsWithin of the list ", i), -7, func() []int64 {
 			near, _ := impl.SpotsWithin(list, impl.Spot{}, half)
 			return near
 		})
-		checkNewMemory(t, fmt.Sprint("ShortestRoute of the list ", i), func() []int64 {
+		checkNewMemory(t, fmt.Sprint("ShortestRoute of the list ", i), -7, func() []int64 {
 			order, _, _ := impl.ShortestRoute(list)
 			return order
 		})
@@ -516,16 +582,72 @@ func TestEqualListsHaveEqualPlacesUnderACap(t *testing.T) {
 
 func TestCapsAreNewMemory(t *testing.T) {
 	for _, x := range [][2]int64{{20, 8}, {60, 1}, {1, 1}, {maxRadius, maxRadius}} {
-		checkNewMemory(t, fmt.Sprint("RingsOf ", x), func() []int64 {
+		checkNewMemory(t, fmt.Sprint("RingsOf ", x), -7, func() []int64 {
 			rings, _ := impl.RingsOf(x[0], x[1])
 			return rings
 		})
 	}
 	spots := drawnSpots()[50:150]
 	for _, x := range [][2]int64{{360, 90}, {1000, 77}, {1000, 0}} {
-		checkNewMemory(t, fmt.Sprint("UnderCap ", x), func() []int64 {
+		checkNewMemory(t, fmt.Sprint("UnderCap ", x), -7, func() []int64 {
 			under, _ := impl.UnderCap(x[0], x[1], spots)
 			return under
 		})
 	}
+}
+
+func TestOutlinesDoNotModifyLists(t *testing.T) {
+	checkListsStay(t, probeChains(), chainProbes)
+	checkListsStay(t, probePoints(), pickProbes)
+	for _, points := range [][]int64{{0, 1}, {0, 2, 3}, {0, 0}, nil} {
+		checkListsStay(t, probeChains(), func(chains [][]impl.Place) []probe {
+			var list []probe
+			for i, chain := range chains {
+				list = append(list, probe{fmt.Sprint("PickPoints ", i), func() string { return told(impl.PickPoints(chain, points)) }})
+			}
+			return list
+		})
+	}
+}
+
+func TestEqualChainsHaveEqualResults(t *testing.T) {
+	checkCopies(t, probeChains(), chainProbes)
+	checkCopies(t, probePoints(), pickProbes)
+}
+
+func TestOutlinesAreNewMemory(t *testing.T) {
+	spoilt := impl.Place{X: -7, Y: -7}
+	for i, chain := range allChains() {
+		checkNewMemory(t, fmt.Sprint("FewestPoints of the chain ", i), -7, func() []int64 {
+			points, _ := impl.FewestPoints(chain, 3)
+			return points
+		})
+		checkNewMemory(t, fmt.Sprint("LongSteps of the chain ", i), -7, func() []int64 {
+			points, _ := impl.LongSteps(chain, 3)
+			return points
+		})
+		checkNewMemory(t, fmt.Sprint("PickPoints of the chain ", i), spoilt, func() []impl.Place {
+			picked, _ := impl.PickPoints(chain, allPoints(len(chain)))
+			return picked
+		})
+		checkNewMemory(t, fmt.Sprint("ReverseChain of the chain ", i), spoilt, func() []impl.Place {
+			back, _ := impl.ReverseChain(chain)
+			return back
+		})
+	}
+}
+
+// TestNoGoroutineStays waits a little for goroutines that are just ending.
+func TestNoGoroutineStays(t *testing.T) {
+	before := runtime.NumGoroutine()
+	for _, x := range slices.Concat(chainProbes(probeChains()), pickProbes(probePoints())) {
+		x.resultOf(t)
+	}
+	for range 1000 {
+		if runtime.NumGoroutine() <= before {
+			return
+		}
+		time.Sleep(time.Millisecond)
+	}
+	t.Errorf("%d goroutines are left, of %d before the calls", runtime.NumGoroutine(), before)
 }
