@@ -345,6 +345,76 @@ func pickProbes(lists [][]int64) []probe {
 	return list
 }
 
+// flatProbeNumbers has numbers about the limits of flat places, and about the edges of the sphere with some scales.
+func flatProbeNumbers() []int64 {
+	return []int64{
+		math.MinInt64, -maxFlat - 1, -maxFlat, -turn - 1, -turn, -half - 1, -half, -181, -180, -90, -1, 0, 1, 3, 90, 91, 179, 180, 360, 361,
+		quarter, quarter + 1, half - 1, half, turn, turn + 1, maxFlat, maxFlat + 1, 1 << 32, math.MaxInt64,
+	}
+}
+
+func scaleProbeNumbers() []int64 {
+	return []int64{math.MinInt64, -1, 0, 1, 2, 3600, maxScale - 1, maxScale, maxScale + 1, 1 << 62, math.MaxInt64}
+}
+
+func mapProbes() []probe {
+	var list []probe
+	for _, lat := range append(probeNumbers(), wrongLats()...) {
+		list = append(list, probe{"StretchAt " + fmt.Sprint(lat), func() string { return told(impl.StretchAt(lat)) }})
+	}
+	spots := slices.Concat(wrongSpots(), drawnSpots()[:150], nearPoles())
+	for _, scale := range scaleProbeNumbers() {
+		for _, p := range spots {
+			arg := name(p) + " " + fmt.Sprint(scale)
+			list = append(list,
+				probe{"PlateOf " + arg, func() string { return told(impl.PlateOf(p, scale)) }},
+				probe{"WaveOf " + arg, func() string { return told(impl.WaveOf(p, scale)) }},
+				probe{"LossOf " + arg, func() string { return told(impl.LossOf(p, scale, false)) }},
+				probe{"LossOf waves " + arg, func() string { return told(impl.LossOf(p, scale, true)) }})
+		}
+		for _, x := range flatProbeNumbers() {
+			for _, y := range flatProbeNumbers() {
+				f := impl.Flat{X: x, Y: y}
+				arg := fmt.Sprint(x, y, scale)
+				list = append(list,
+					probe{"PlateBack " + arg, func() string { return told(impl.PlateBack(f, scale)) }},
+					probe{"WaveBack " + arg, func() string { return told(impl.WaveBack(f, scale)) }},
+					probe{"OnMap " + arg, func() string { return told(impl.OnMap(f, scale, false)) }},
+					probe{"OnMap waves " + arg, func() string { return told(impl.OnMap(f, scale, true)) }})
+			}
+		}
+	}
+	return list
+}
+
+// mapProbeLists returns lists of spots about the limits of BestScale and of FlatBox; each has some capacity behind its end.
+func mapProbeLists() [][]impl.Spot {
+	lists := probeSpotLists()
+	for _, many := range []int{1, maxSearched, maxSearched + 1, maxBoxed, maxBoxed + 1} {
+		wrong := make([]impl.Spot, many, many+3)
+		wrong[many-1] = impl.Spot{Lat: math.MinInt64, Lon: math.MaxInt64}
+		lists = append(lists, atPole(many), drawnSpots()[60:60+many], nearPoles()[:min(many, 40)], make([]impl.Spot, many, 2*many), wrong)
+	}
+	return lists
+}
+
+// boxProbes has the calls of BestScale and of FlatBox; the names of the lists are their indices.
+func boxProbes(lists [][]impl.Spot) []probe {
+	var list []probe
+	for i, spots := range lists {
+		for _, wave := range bothKinds() {
+			arg := fmt.Sprint("list ", i, " ", wave)
+			for _, most := range []int64{math.MinInt64, -1, 0, 499, maxLoss, maxLoss + 1, math.MaxInt64} {
+				list = append(list, probe{"BestScale " + arg + fmt.Sprint(" ", most), func() string { return told(impl.BestScale(spots, most, wave)) }})
+			}
+			for _, scale := range scaleProbeNumbers() {
+				list = append(list, probe{"FlatBox " + arg + fmt.Sprint(" ", scale), func() string { return told(impl.FlatBox(spots, scale, wave)) }})
+			}
+		}
+	}
+	return list
+}
+
 // resultOf makes the call; a panic is an error.
 func (x probe) resultOf(t *testing.T) (result string) {
 	defer func() {
@@ -409,7 +479,7 @@ func TestEveryFunctionReturnsAndRepeats(t *testing.T) {
 	}
 	probes := slices.Concat(
 		textProbes(texts), numberProbes(), sineProbes(), spotProbes(), goreProbes(), pairProbes(), routeProbes(routeProbeLists()),
-		capProbes(), discProbes(probeSpotLists()), chainProbes(probeChains()), pickProbes(probePoints()))
+		capProbes(), discProbes(probeSpotLists()), chainProbes(probeChains()), pickProbes(probePoints()), mapProbes(), boxProbes(mapProbeLists()))
 	first := make([]string, len(probes))
 	for i, x := range probes {
 		first[i] = x.resultOf(t)
@@ -634,6 +704,18 @@ func TestOutlinesAreNewMemory(t *testing.T) {
 			back, _ := impl.ReverseChain(chain)
 			return back
 		})
+	}
+}
+
+func TestMapsDoNotModifyLists(t *testing.T) {
+	checkListsStay(t, mapProbeLists(), boxProbes)
+}
+
+func TestEqualListsHaveEqualMaps(t *testing.T) {
+	checkCopies(t, mapProbeLists(), boxProbes)
+	for _, wave := range bothKinds() {
+		same(t, "BestScale of no places", told(impl.BestScale(nil, 0, wave)), told(impl.BestScale([]impl.Spot{}, 0, wave)))
+		same(t, "FlatBox of no places", told(impl.FlatBox(nil, 1, wave)), told(impl.FlatBox([]impl.Spot{}, 1, wave)))
 	}
 }
 
