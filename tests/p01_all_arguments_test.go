@@ -415,6 +415,82 @@ func boxProbes(lists [][]impl.Spot) []probe {
 	return list
 }
 
+// probeBorders returns lists of borders, and lists that are none, the last of them much too long; each has some capacity behind its end.
+func probeBorders() [][]impl.Border {
+	lists := [][]impl.Border{nil, {}, {{A: 0, B: 1}, {A: 0, B: 1}}, {{A: math.MinInt64, B: math.MaxInt64}}, {{A: math.MaxInt64, B: math.MinInt64}, {}}, borders(maxLands, 45), make([]impl.Border, 100000)}
+	for _, c := range slices.Concat(bigCountries()[:40], smallCountries(3), fewCountries(), countriesWithOneTwice()[:5]) {
+		lists = append(lists, c.list)
+	}
+	for i, list := range lists {
+		longer := append(slices.Clone(list), impl.Border{A: 1, B: 2}, impl.Border{A: math.MinInt64, B: math.MaxInt64})
+		lists[i] = longer[:len(list)]
+	}
+	return lists
+}
+
+// landProbeNumbers has numbers about the limits of lands and of colours.
+func landProbeNumbers() []int64 {
+	return []int64{math.MinInt64, -1, 0, 1, 2, 3, 5, maxColours, maxColours + 1, 9, maxLands, maxLands + 1, 64, math.MaxInt64}
+}
+
+// borderProbes has the calls of all functions of colours that take no other list; the names of the lists are their indices.
+func borderProbes(lists [][]impl.Border) []probe {
+	var list []probe
+	for i, border := range lists {
+		for _, lands := range landProbeNumbers() {
+			arg := fmt.Sprint(lands, " list ", i)
+			list = append(list,
+				probe{"ValidBorders " + arg, func() string { return told(impl.ValidBorders(lands, border)) }},
+				probe{"FewestColours " + arg, func() string { return told(impl.FewestColours(lands, border)) }},
+				probe{"HardBorders " + arg, func() string { return told(impl.HardBorders(lands, border)) }},
+				probe{"FirstClash " + arg, func() string { return told(impl.FirstClash(lands, border, []int64{0, 1, 0, 1, 0, 1, 0, 1, 0, 1})) }},
+				probe{"GreedyColours " + arg, func() string { return told(impl.GreedyColours(lands, border, []int64{9, 0, 1, 2, 3, 4, 5, 6, 7, 8})) }},
+				probe{"SwapColours " + arg, func() string { return told(impl.SwapColours(lands, border, allPoints(maxLands), 9, 0)) }})
+			for _, n := range landProbeNumbers() {
+				all := arg + " " + fmt.Sprint(n)
+				list = append(list,
+					probe{"NeighboursOf " + all, func() string { return told(impl.NeighboursOf(lands, border, n)) }},
+					probe{"FirstColours " + all, func() string { return told(impl.FirstColours(lands, border, n)) }},
+					probe{"CountColours " + all, func() string { return told(impl.CountColours(lands, border, n)) }})
+			}
+		}
+	}
+	return list
+}
+
+// probeLandNumbers returns lists that are colours or orders for some numbers of lands, and others; each has some capacity behind its end.
+func probeLandNumbers() [][]int64 {
+	lists := [][]int64{nil, {math.MinInt64, math.MaxInt64}, {0, 0, 0}, {2, 0, 1}, {0, 9, 0, 9, 9}, slices.Repeat([]int64{1, 0}, 5), make([]int64, 100000), allPoints(100000)}
+	for many := 1; many <= maxLands+1; many++ {
+		lists = append(lists, allPoints(many), make([]int64, many))
+	}
+	for i, numbers := range lists {
+		lists[i] = append(slices.Clone(numbers), 1, math.MinInt64)[:len(numbers)]
+	}
+	return lists
+}
+
+// colourProbes has the calls of all functions with colours or orders; the names of the lists are their indices.
+func colourProbes(lists [][]int64) []probe {
+	countries := append(fewCountries(), countryOf(3, 0, 2), countryOf(3, 1, 0), countryOf(0), countryOf(maxLands+1), ring(maxLands, allPoints(maxLands)...), country{100000, nil}, country{math.MinInt64, nil}, country{math.MaxInt64, nil})
+	var list []probe
+	for i, numbers := range lists {
+		for k, c := range countries {
+			arg := fmt.Sprint("country ", k, " list ", i)
+			list = append(list,
+				probe{"FirstClash " + arg, func() string { return told(impl.FirstClash(c.lands, c.list, numbers)) }},
+				probe{"GreedyColours " + arg, func() string { return told(impl.GreedyColours(c.lands, c.list, numbers)) }})
+			for _, n := range landProbeNumbers() {
+				all := arg + " " + fmt.Sprint(n)
+				list = append(list,
+					probe{"SwapColours of " + all, func() string { return told(impl.SwapColours(c.lands, c.list, numbers, n, 1)) }},
+					probe{"SwapColours to " + all, func() string { return told(impl.SwapColours(c.lands, c.list, numbers, 0, n)) }})
+			}
+		}
+	}
+	return list
+}
+
 // resultOf makes the call; a panic is an error.
 func (x probe) resultOf(t *testing.T) (result string) {
 	defer func() {
@@ -479,7 +555,8 @@ func TestEveryFunctionReturnsAndRepeats(t *testing.T) {
 	}
 	probes := slices.Concat(
 		textProbes(texts), numberProbes(), sineProbes(), spotProbes(), goreProbes(), pairProbes(), routeProbes(routeProbeLists()),
-		capProbes(), discProbes(probeSpotLists()), chainProbes(probeChains()), pickProbes(probePoints()), mapProbes(), boxProbes(mapProbeLists()))
+		capProbes(), discProbes(probeSpotLists()), chainProbes(probeChains()), pickProbes(probePoints()), mapProbes(), boxProbes(mapProbeLists()),
+		borderProbes(probeBorders()), colourProbes(probeLandNumbers()))
 	first := make([]string, len(probes))
 	for i, x := range probes {
 		first[i] = x.resultOf(t)
@@ -719,10 +796,56 @@ func TestEqualListsHaveEqualMaps(t *testing.T) {
 	}
 }
 
+func TestColoursDoNotModifyLists(t *testing.T) {
+	checkListsStay(t, probeBorders(), borderProbes)
+	checkListsStay(t, probeLandNumbers(), colourProbes)
+}
+
+func TestEqualBordersHaveEqualColours(t *testing.T) {
+	checkCopies(t, probeBorders(), borderProbes)
+	checkCopies(t, probeLandNumbers(), colourProbes)
+	for _, call := range callsOfCountries() {
+		for _, lands := range []int64{1, 2, 3, 5, maxLands} {
+			same(t, call.name+" without borders", told(call.call(country{lands, []impl.Border{}})...), told(call.call(country{lands, nil})...))
+		}
+	}
+}
+
+// TestColoursAreNewMemory looks at the argument of SwapColours as well: the changes of the results must not show there.
+func TestColoursAreNewMemory(t *testing.T) {
+	for _, c := range append(bigCountries(), smallCountries(3)...) {
+		checkNewMemory(t, fmt.Sprint("NeighboursOf ", c), -7, func() []int64 {
+			neighbours, _ := impl.NeighboursOf(c.lands, c.list, c.lands-1)
+			return neighbours
+		})
+		checkNewMemory(t, fmt.Sprint("FirstColours ", c), -7, func() []int64 {
+			colours, _ := impl.FirstColours(c.lands, c.list, maxColours)
+			return colours
+		})
+		order := allPoints(int(c.lands))
+		checkNewMemory(t, fmt.Sprint("GreedyColours ", c), -7, func() []int64 {
+			colours, _ := impl.GreedyColours(c.lands, c.list, order)
+			return colours
+		})
+		colours := c.ruleGreedy(order)
+		checkNewMemory(t, fmt.Sprint("SwapColours ", c), -7, func() []int64 {
+			swapped, _ := impl.SwapColours(c.lands, c.list, colours, 0, maxLands-1)
+			return swapped
+		})
+		checkNewMemory(t, fmt.Sprint("HardBorders ", c), -7, func() []int64 {
+			hard, _ := impl.HardBorders(c.lands, c.list)
+			return hard
+		})
+		if !slices.Equal(order, allPoints(int(c.lands))) || !slices.Equal(colours, c.ruleGreedy(order)) {
+			t.Errorf("%v: a change of a result shows in an argument", c)
+		}
+	}
+}
+
 // TestNoGoroutineStays waits a little for goroutines that are just ending.
 func TestNoGoroutineStays(t *testing.T) {
 	before := runtime.NumGoroutine()
-	for _, x := range slices.Concat(chainProbes(probeChains()), pickProbes(probePoints())) {
+	for _, x := range slices.Concat(chainProbes(probeChains()), pickProbes(probePoints()), borderProbes(probeBorders())) {
 		x.resultOf(t)
 	}
 	for range 1000 {
