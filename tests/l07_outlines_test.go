@@ -663,6 +663,8 @@ func checkRefused(t *testing.T, what string, results []any, want int64) {
 			same(t, what+" beside the code", len(x), 0)
 		case []impl.Place:
 			same(t, what+" beside the code", len(x), 0)
+		case [][]impl.Place:
+			same(t, what+" beside the code", len(x), 0)
 		}
 	}
 }

@@ -491,6 +491,77 @@ func colourProbes(lists [][]int64) []probe {
 	return list
 }
 
+// joinProbes has the calls of all functions of joins with one or two chains; the names of the chains are their indices.
+func joinProbes(chains [][]impl.Place) []probe {
+	numbers := []int64{math.MinInt64, -maxPlace - 1, -maxPlace, -1, 0, 1, 5, maxPlace, maxPlace + 1, math.MaxInt64}
+	var list []probe
+	for i, chain := range chains {
+		arg := "chain " + fmt.Sprint(i)
+		list = append(list,
+			probe{"IsClosed " + arg, func() string { return told(impl.IsClosed(chain)) }},
+			probe{"TwiceArea " + arg, func() string { return told(impl.TwiceArea(chain)) }},
+			probe{"LeftTurned " + arg, func() string { return told(impl.LeftTurned(chain)) }},
+			probe{"JoinTwo with itself " + arg, func() string { return told(impl.JoinTwo(chain, chain)) }},
+			probe{"JoinTwo with a part " + arg, func() string { return told(impl.JoinTwo(chain[:len(chain)/2], chain[len(chain)/3:])) }})
+		for k := range 4 {
+			other := chains[(i+k*k)%len(chains)]
+			list = append(list, probe{"JoinTwo " + arg + fmt.Sprint(" ", k), func() string { return told(impl.JoinTwo(chain, other)) }})
+		}
+		for _, x := range numbers {
+			for _, y := range numbers {
+				all := arg + " " + fmt.Sprint(x, y)
+				list = append(list,
+					probe{"InsideOf " + all, func() string { return told(impl.InsideOf(chain, impl.Place{X: x, Y: y})) }},
+					probe{"MoveChain " + all, func() string { return told(impl.MoveChain(chain, x, y)) }})
+			}
+		}
+	}
+	return list
+}
+
+// probeChainsOfJoins has closed chains as well; each has some capacity behind its end.
+func probeChainsOfJoins() [][]impl.Place {
+	chains := probeChains()
+	for _, chain := range slices.Concat(closedChains(), openChains()[:20]) {
+		chains = append(chains, withMore(chain))
+	}
+	return chains
+}
+
+// withMore returns a copy of a chain with some capacity behind its end.
+func withMore(chain []impl.Place) []impl.Place {
+	return append(slices.Clone(chain), impl.Place{X: 77, Y: 1}, impl.Place{X: math.MinInt64, Y: math.MaxInt64})[:len(chain)]
+}
+
+// probeChainLists returns lists of chains about the limits of joins, with and without chains that are not valid; each list, and each chain of
+// it, has some capacity behind its end.
+func probeChainLists() [][][]impl.Place {
+	lists := append(chainLists(), slices.Repeat([][]impl.Place{chainOf(1, 1, 2, 2)}, maxJoined+1), make([][]impl.Place, 100000), slices.Repeat([][]impl.Place{triangleOfExample()}, 100000))
+	for i, wrong := range wrongChains()[:40] {
+		at := i % (maxJoined + 1)
+		lists = append(lists, slices.Insert(openChains()[:maxJoined], at, wrong), slices.Insert(closedChains()[:at], at/2, wrong))
+	}
+	for i, list := range lists {
+		longer := make([][]impl.Place, 0, len(list)+2)
+		for _, chain := range list {
+			longer = append(longer, withMore(chain))
+		}
+		lists[i] = append(longer, chainOf(77, 1, 5, 5), chainOf(math.MinInt64, 0))[:len(list)]
+	}
+	return lists
+}
+
+// joinListProbes has the calls of all functions with lists of chains; the names of the lists are their indices.
+func joinListProbes(lists [][][]impl.Place) []probe {
+	var list []probe
+	for i, chains := range lists {
+		for _, x := range callsOfChainLists() {
+			list = append(list, probe{x.name + " list " + fmt.Sprint(i), func() string { return told(x.call(chains)...) }})
+		}
+	}
+	return list
+}
+
 // resultOf makes the call; a panic is an error.
 func (x probe) resultOf(t *testing.T) (result string) {
 	defer func() {
@@ -556,7 +627,7 @@ func TestEveryFunctionReturnsAndRepeats(t *testing.T) {
 	probes := slices.Concat(
 		textProbes(texts), numberProbes(), sineProbes(), spotProbes(), goreProbes(), pairProbes(), routeProbes(routeProbeLists()),
 		capProbes(), discProbes(probeSpotLists()), chainProbes(probeChains()), pickProbes(probePoints()), mapProbes(), boxProbes(mapProbeLists()),
-		borderProbes(probeBorders()), colourProbes(probeLandNumbers()))
+		borderProbes(probeBorders()), colourProbes(probeLandNumbers()), joinProbes(probeChainsOfJoins()), joinListProbes(probeChainLists()))
 	first := make([]string, len(probes))
 	for i, x := range probes {
 		first[i] = x.resultOf(t)
@@ -838,6 +909,111 @@ func TestColoursAreNewMemory(t *testing.T) {
 		})
 		if !slices.Equal(order, allPoints(int(c.lands))) || !slices.Equal(colours, c.ruleGreedy(order)) {
 			t.Errorf("%v: a change of a result shows in an argument", c)
+		}
+	}
+}
+
+func TestJoinsDoNotModifyChains(t *testing.T) {
+	checkListsStay(t, probeChainsOfJoins(), joinProbes)
+}
+
+func TestEqualChainsAreJoinedEqually(t *testing.T) {
+	checkCopies(t, probeChainsOfJoins(), joinProbes)
+	for i, list := range probeChainLists() {
+		var other [][]impl.Place
+		for _, chain := range list {
+			other = append(other, slices.Clip(slices.Clone(chain)))
+		}
+		for _, x := range callsOfChainLists() {
+			same(t, fmt.Sprint(x.name, " of a copy of the list ", i), told(x.call(other)...), told(x.call(list)...))
+		}
+	}
+	for _, x := range callsOfChainLists() {
+		same(t, x.name+" of no chains", told(x.call(nil)...), told(x.call([][]impl.Place{})...))
+	}
+}
+
+// TestJoinsDoNotModifyListsOfChains looks at the places, at where the chains lie, and at what lies behind them and behind the list.
+func TestJoinsDoNotModifyListsOfChains(t *testing.T) {
+	for i, list := range probeChainLists() {
+		whole := list[:cap(list)]
+		before := slices.Clone(whole)
+		var places [][]impl.Place
+		for _, chain := range whole {
+			places = append(places, slices.Clone(chain[:cap(chain)]))
+		}
+		for _, x := range joinListProbes([][][]impl.Place{list}) {
+			x.resultOf(t)
+		}
+		for k, chain := range whole {
+			if len(chain) != len(before[k]) || cap(chain) != cap(before[k]) || cap(chain) > 0 && &chain[:1][0] != &before[k][:1][0] || !slices.Equal(chain[:cap(chain)], places[k]) {
+				t.Errorf("the chain %d of the list %d was modified", k, i)
+			}
+		}
+	}
+}
+
+// TestJoinsAreNewMemory looks at the arguments as well: the changes of the results must not show there.
+func TestJoinsAreNewMemory(t *testing.T) {
+	spoilt := impl.Place{X: -7, Y: -7}
+	for i, chain := range slices.Concat(closedChains(), openChains()) {
+		before := slices.Clone(chain)
+		checkNewMemory(t, fmt.Sprint("LeftTurned of the chain ", i), spoilt, func() []impl.Place {
+			turned, _ := impl.LeftTurned(chain)
+			return turned
+		})
+		checkNewMemory(t, fmt.Sprint("MoveChain of the chain ", i), spoilt, func() []impl.Place {
+			moved, _ := impl.MoveChain(chain, 0, 0)
+			return moved
+		})
+		for _, other := range [][]impl.Place{chain, {chain[0], {X: 99}}, {{X: 99}, chain[0]}, {chain[len(chain)-1], {X: 99}}, {{X: 99}, chain[len(chain)-1]}} {
+			otherBefore := slices.Clone(other)
+			checkNewMemory(t, fmt.Sprint("JoinTwo of the chain ", i), spoilt, func() []impl.Place {
+				joined, _ := impl.JoinTwo(chain, other)
+				return joined
+			})
+			if !slices.Equal(other, otherBefore) {
+				t.Errorf("the chain %d: a change of a result shows in an argument", i)
+			}
+		}
+		if !slices.Equal(chain, before) {
+			t.Errorf("the chain %d: a change of a result shows in an argument", i)
+		}
+	}
+	for i, list := range chainLists() {
+		checkNewMemory(t, fmt.Sprint("LooseEnds of the list ", i), spoilt, func() []impl.Place {
+			ends, _ := impl.LooseEnds(list)
+			return ends
+		})
+	}
+}
+
+// TestJoinedChainsAreNewMemory changes one chain after the other, with what lies behind it, and looks at the other ones, at other results and
+// at the argument.
+func TestJoinedChainsAreNewMemory(t *testing.T) {
+	for i, list := range chainLists() {
+		want := ruleJoinAll(list)
+		first, _ := impl.JoinAll(list)
+		other, _ := impl.JoinAll(list)
+		for k, chain := range first {
+			if !slices.Equal(chain, want[k]) {
+				t.Errorf("JoinAll of the list %d: the chain %d shows a change of another one", i, k)
+			}
+			spoilt := chain[:cap(chain)]
+			for j := range spoilt {
+				spoilt[j] = impl.Place{X: -7, Y: -7}
+			}
+		}
+		spoiltList := first[:cap(first)]
+		for k := range spoiltList {
+			spoiltList[k] = nil
+		}
+		if !slices.EqualFunc(other, want, slices.Equal) {
+			t.Errorf("JoinAll of the list %d: a change of one result shows in another one", i)
+		}
+		checkJoinedAll(t, list, want...)
+		if !slices.EqualFunc(list, chainLists()[i], slices.Equal) {
+			t.Errorf("JoinAll of the list %d: a change of a result shows in the argument", i)
 		}
 	}
 }
