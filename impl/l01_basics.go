@@ -77,6 +77,17 @@ func within(n, least, most int64) bool {
 	return least <= n && n <= most
 }
 
+// codeOf returns the first error of arguments that have to be valid, and of others that have to keep to their limits.
+func codeOf(areValid, inLimits bool) int64 {
+	switch {
+	case !areValid:
+		return ErrInvalid
+	case !inLimits:
+		return ErrRange
+	}
+	return OK
+}
+
 func isBlank(r rune) bool { return r == ' ' }
 
 func isDigit(r rune) bool { return '0' <= r && r <= '9' }

@@ -3,6 +3,7 @@ package tests
 import (
 	"fmt"
 	"math"
+	"math/rand"
 	"runtime"
 	"slices"
 	"strings"
@@ -562,6 +563,83 @@ func joinListProbes(lists [][][]impl.Place) []probe {
 	return list
 }
 
+// probeLabelLists returns lists of labels about the limits of labels, with and without labels that are not valid; each list, and the Starts of
+// each label, have some capacity behind their end.
+func probeLabelLists() [][]impl.Label {
+	lists := [][]impl.Label{nil, {}, apart(maxLabels + 1), slices.Repeat([]impl.Label{tens(1, 0, 5)}, 100000), make([]impl.Label, 100000), rightLabels()[:maxLabels]}
+	lists = append(lists, labelLists()[:120]...)
+	lists = append(lists, labelLists()[500:]...)
+	for i, wrong := range wrongLabels() {
+		at := i % maxLabels
+		lists = append(lists, []impl.Label{wrong}, slices.Insert(apart(int64(at)), at/2, wrong))
+	}
+	for i, list := range lists {
+		longer := make([]impl.Label, 0, len(list)+2)
+		for _, l := range list {
+			l.Starts = append(slices.Clone(l.Starts), 3, math.MinInt64)[:len(l.Starts)]
+			longer = append(longer, l)
+		}
+		lists[i] = append(longer, tens(7, 5, 3), labelIn(math.MinInt64, 0, math.MaxInt64))[:len(list)]
+	}
+	return lists
+}
+
+// labelProbes has the calls of all functions of labels; the names of the lists are their indices.
+func labelProbes(lists [][]impl.Label) []probe {
+	var list []probe
+	for i, labels := range lists {
+		arg := "labels " + fmt.Sprint(i)
+		list = append(list, probe{"ValidLabels " + arg, func() string { return told(impl.ValidLabels(labels)) }})
+		for _, places := range [][]int64{nil, {0}, {-1, 2}, make([]int64, min(len(labels), maxLabels)), allLeftOut(len(labels)), {math.MinInt64, math.MaxInt64}} {
+			for _, x := range callsOfPlaces(places) {
+				list = append(list, probe{x.name + " " + arg, func() string { return told(x.call(labels)...) }})
+			}
+		}
+		for _, x := range callsOfLabels()[:2] {
+			list = append(list, probe{x.name + " " + arg, func() string { return told(x.call(labels)...) }})
+		}
+		for k := range min(len(labels), maxLabels) {
+			other := lists[(i+k)%len(lists)]
+			for _, y := range []int64{math.MinInt64, -1, 0, 3, maxAlong, maxAlong + 1, math.MaxInt64} {
+				for _, b := range append(other[:min(len(other), 1):min(len(other), 1)], labels[0]) {
+					all := arg + " " + fmt.Sprint(k, y, b.Row, b.Width, b.Weight, len(b.Starts))
+					list = append(list, probe{"LabelsMeet " + all, func() string { return told(impl.LabelsMeet(labels[k], b, 5, y)) }})
+				}
+			}
+		}
+	}
+	return list
+}
+
+// probePlaces returns places of labels, and lists that are none; each has some capacity behind its end.
+func probePlaces() [][]int64 {
+	r := rand.New(rand.NewSource(55))
+	lists := [][]int64{nil, {}, {-2}, {0, 3}, {math.MinInt64, math.MaxInt64}, make([]int64, 100000), allLeftOut(100000)}
+	for many := range maxLabels + 2 {
+		lists = append(lists, make([]int64, many), allLeftOut(many), slices.Repeat([]int64{1}, many))
+	}
+	for _, list := range labelLists()[:200] {
+		lists = append(lists, drawnPlaces(r, list))
+	}
+	for i, places := range lists {
+		lists[i] = append(slices.Clone(places), 0, math.MinInt64)[:len(places)]
+	}
+	return lists
+}
+
+// placesProbes has the calls of all functions with places; the names of the lists are their indices.
+func placesProbes(lists [][]int64) []probe {
+	var list []probe
+	for i, places := range lists {
+		for k, labels := range append(listsForErrors(), []impl.Label{{}}, []impl.Label{tens(1, 0), {}}) {
+			for _, x := range callsOfPlaces(places) {
+				list = append(list, probe{fmt.Sprint(x.name, " places ", i, " labels ", k), func() string { return told(x.call(labels)...) }})
+			}
+		}
+	}
+	return list
+}
+
 // resultOf makes the call; a panic is an error.
 func (x probe) resultOf(t *testing.T) (result string) {
 	defer func() {
@@ -627,7 +705,8 @@ func TestEveryFunctionReturnsAndRepeats(t *testing.T) {
 	probes := slices.Concat(
 		textProbes(texts), numberProbes(), sineProbes(), spotProbes(), goreProbes(), pairProbes(), routeProbes(routeProbeLists()),
 		capProbes(), discProbes(probeSpotLists()), chainProbes(probeChains()), pickProbes(probePoints()), mapProbes(), boxProbes(mapProbeLists()),
-		borderProbes(probeBorders()), colourProbes(probeLandNumbers()), joinProbes(probeChainsOfJoins()), joinListProbes(probeChainLists()))
+		borderProbes(probeBorders()), colourProbes(probeLandNumbers()), joinProbes(probeChainsOfJoins()), joinListProbes(probeChainLists()),
+		labelProbes(probeLabelLists()), placesProbes(probePlaces()))
 	first := make([]string, len(probes))
 	for i, x := range probes {
 		first[i] = x.resultOf(t)
@@ -1016,6 +1095,90 @@ func TestJoinedChainsAreNewMemory(t *testing.T) {
 			t.Errorf("JoinAll of the list %d: a change of a result shows in the argument", i)
 		}
 	}
+}
+
+func TestPlacesOfLabelsAreNotModified(t *testing.T) {
+	checkListsStay(t, probePlaces(), placesProbes)
+}
+
+func TestEqualLabelsHaveEqualPlaces(t *testing.T) {
+	checkCopies(t, probePlaces(), placesProbes)
+	var copies [][]impl.Label
+	for _, list := range probeLabelLists() {
+		other := slices.Clip(slices.Clone(list))
+		for i, l := range other {
+			other[i].Starts = slices.Clip(slices.Clone(l.Starts))
+		}
+		copies = append(copies, other)
+	}
+	others := labelProbes(copies)
+	for i, x := range labelProbes(probeLabelLists()) {
+		same(t, x.name, others[i].resultOf(t), x.resultOf(t))
+	}
+	for _, x := range slices.Concat(callsOfLabels(), callsOfPlaces(nil)) {
+		same(t, x.name+" of no labels", told(x.call(nil)...), told(x.call([]impl.Label{})...))
+	}
+	for i, x := range callsOfPlaces(nil) {
+		same(t, x.name+" of no places", told(x.call(nil)...), told(callsOfPlaces([]int64{})[i].call(nil)...))
+	}
+}
+
+// TestLabelsAreNotModified looks at the labels, at where their Starts lie, and at what lies behind them and behind the list.
+func TestLabelsAreNotModified(t *testing.T) {
+	lists := probeLabelLists()
+	var before [][]impl.Label
+	for _, list := range lists {
+		whole := slices.Clone(list[:cap(list)])
+		for i, l := range whole {
+			whole[i].Starts = slices.Clone(l.Starts[:cap(l.Starts)])
+		}
+		before = append(before, whole)
+	}
+	wholes := make([][]impl.Label, len(lists))
+	for i, list := range lists {
+		wholes[i] = slices.Clone(list[:cap(list)])
+	}
+	for _, x := range labelProbes(lists) {
+		x.resultOf(t)
+	}
+	for i, list := range lists {
+		for k, l := range list[:cap(list)] {
+			old := wholes[i][k]
+			isMoved := len(l.Starts) != len(old.Starts) || cap(l.Starts) != cap(old.Starts) || cap(l.Starts) > 0 && &l.Starts[:1][0] != &old.Starts[:1][0]
+			isOther := l.Row != old.Row || l.Width != old.Width || l.Weight != old.Weight
+			if isMoved || isOther || !slices.Equal(l.Starts[:cap(l.Starts)], before[i][k].Starts) {
+				t.Errorf("the label %d of the list %d was modified", k, i)
+			}
+		}
+	}
+}
+
+// TestPlacesOfLabelsAreNewMemory looks at the arguments as well: the changes of the results must not show there.
+func TestPlacesOfLabelsAreNewMemory(t *testing.T) {
+	r := rand.New(rand.NewSource(56))
+	for i, list := range labelLists() {
+		places := drawnPlaces(r, list)
+		before := slices.Clone(places)
+		checkNewMemory(t, fmt.Sprint("BestPlaces of the list ", i), -7, func() []int64 {
+			best, _, _ := impl.BestPlaces(list)
+			return best
+		})
+		checkNewMemory(t, fmt.Sprint("GreedyPlaces of the list ", i), -7, func() []int64 {
+			greedy, _ := impl.GreedyPlaces(list)
+			return greedy
+		})
+		checkNewMemory(t, fmt.Sprint("LeftOut of the list ", i), -7, func() []int64 {
+			out, _ := impl.LeftOut(list, places)
+			return out
+		})
+		if !slices.Equal(places, before) || !slices.EqualFunc(list, labelLists()[i], sameLabel) {
+			t.Errorf("the list %d: a change of a result shows in an argument", i)
+		}
+	}
+}
+
+func sameLabel(a, b impl.Label) bool {
+	return a.Row == b.Row && a.Width == b.Width && a.Weight == b.Weight && slices.Equal(a.Starts, b.Starts)
 }
 
 // TestNoGoroutineStays waits a little for goroutines that are just ending.
