@@ -661,10 +661,16 @@ func checkRefused(t *testing.T, what string, results []any, want int64) {
 			same(t, what+" beside the code", x, 0)
 		case []int64:
 			same(t, what+" beside the code", len(x), 0)
+		case string:
+			same(t, what+" beside the code", x, "")
+		case []string:
+			same(t, what+" beside the code", len(x), 0)
 		case []impl.Place:
 			same(t, what+" beside the code", len(x), 0)
 		case [][]impl.Place:
 			same(t, what+" beside the code", len(x), 0)
+		default:
+			t.Errorf("%s: nobody looks at a %T", what, x)
 		}
 	}
 }

@@ -640,6 +640,38 @@ func placesProbes(lists [][]int64) []probe {
 	return list
 }
 
+// probeGrids returns grids, and rows that are none, some of them much too many or too long; each list has some capacity behind its end.
+func probeGrids() [][]string {
+	var lists [][]string
+	for i, rows := range slices.Concat(gridsForErrors(), grids(), wrongGrids()) {
+		if i < 60 || i%5 == 0 {
+			lists = append(lists, append(slices.Clone(rows), "a.b", "A", strings.Repeat("a", 100000))[:len(rows)])
+		}
+	}
+	return lists
+}
+
+// gridProbes has the calls of all functions of lands; the names of the lists are their indices.
+func gridProbes(lists [][]string) []probe {
+	calls := callsOfGrids()[:5]
+	for _, land := range []string{"a", "b", "z", ".", "", "A", "ab", "é", "\xff", strings.Repeat("a", 100000)} {
+		calls = append(calls, callsOfLand(land)...)
+		calls = append(calls, callOfGiving("a", land))
+	}
+	for _, cells := range slices.Concat(turnedArgument.right, turnedArgument.wrong) {
+		calls = append(calls, callOfTurning(cells))
+	}
+	var list []probe
+	for i, rows := range lists {
+		arg := " grid " + fmt.Sprint(i)
+		list = append(list, probe{"ValidGrid" + arg, func() string { return told(impl.ValidGrid(rows)) }})
+		for _, x := range calls {
+			list = append(list, probe{x.name + arg, func() string { return told(x.call(rows)...) }})
+		}
+	}
+	return list
+}
+
 // resultOf makes the call; a panic is an error.
 func (x probe) resultOf(t *testing.T) (result string) {
 	defer func() {
@@ -706,7 +738,7 @@ func TestEveryFunctionReturnsAndRepeats(t *testing.T) {
 		textProbes(texts), numberProbes(), sineProbes(), spotProbes(), goreProbes(), pairProbes(), routeProbes(routeProbeLists()),
 		capProbes(), discProbes(probeSpotLists()), chainProbes(probeChains()), pickProbes(probePoints()), mapProbes(), boxProbes(mapProbeLists()),
 		borderProbes(probeBorders()), colourProbes(probeLandNumbers()), joinProbes(probeChainsOfJoins()), joinListProbes(probeChainLists()),
-		labelProbes(probeLabelLists()), placesProbes(probePlaces()))
+		labelProbes(probeLabelLists()), placesProbes(probePlaces()), gridProbes(probeGrids()))
 	first := make([]string, len(probes))
 	for i, x := range probes {
 		first[i] = x.resultOf(t)
@@ -1179,6 +1211,59 @@ func TestPlacesOfLabelsAreNewMemory(t *testing.T) {
 
 func sameLabel(a, b impl.Label) bool {
 	return a.Row == b.Row && a.Width == b.Width && a.Weight == b.Weight && slices.Equal(a.Starts, b.Starts)
+}
+
+func TestGridsAreNotModified(t *testing.T) {
+	checkListsStay(t, probeGrids(), gridProbes)
+}
+
+// TestEqualGridsHaveEqualLands has the rows themselves in other memory as well.
+func TestEqualGridsHaveEqualLands(t *testing.T) {
+	checkCopies(t, probeGrids(), gridProbes)
+	var copies [][]string
+	for _, rows := range probeGrids() {
+		var other []string
+		for _, row := range rows {
+			other = append(other, ("x" + row)[1:])
+		}
+		copies = append(copies, other)
+	}
+	others := gridProbes(copies)
+	for i, x := range gridProbes(probeGrids()) {
+		same(t, x.name, others[i].resultOf(t), x.resultOf(t))
+	}
+	for _, x := range callsOfGrids() {
+		same(t, x.name+" of no rows", told(x.call(nil)...), told(x.call([]string{})...))
+	}
+}
+
+// TestGridsAreNewMemory looks at the argument as well: the changes of the results must not show there, also if the grid stays as it is.
+func TestGridsAreNewMemory(t *testing.T) {
+	for i, rows := range grids() {
+		before := slices.Clone(rows)
+		checkNewMemory(t, fmt.Sprint("GridBorders of the grid ", i), "spoilt", func() []string {
+			borders, _ := impl.GridBorders(rows)
+			return borders
+		})
+		for _, cells := range []int64{0, 1, int64(len(rows[0]))} {
+			checkNewMemory(t, fmt.Sprint("TurnGrid of the grid ", i, " by ", cells), "spoilt", func() []string {
+				turned, _ := impl.TurnGrid(rows, cells)
+				return turned
+			})
+		}
+		lands, _ := impl.LandsOf(rows)
+		for k := range len(lands) {
+			for _, to := range []string{".", "k", lands[k : k+1]} {
+				checkNewMemory(t, fmt.Sprint("GiveLand of the grid ", i, " to ", to), "spoilt", func() []string {
+					given, _ := impl.GiveLand(rows, lands[k:k+1], to)
+					return given
+				})
+			}
+		}
+		if !slices.Equal(rows, before) {
+			t.Errorf("the grid %d: a change of a result shows in the argument", i)
+		}
+	}
 }
 
 // TestNoGoroutineStays waits a little for goroutines that are just ending.
