@@ -3,6 +3,7 @@ package tests
 import (
 	"math"
 	"math/rand"
+	"slices"
 	"strconv"
 	"strings"
 	"testing"
@@ -24,6 +25,15 @@ func same[T comparable](t *testing.T, what string, got, want T) {
 	t.Helper()
 	if got != want {
 		t.Errorf("%s: got %v, want %v", what, got, want)
+	}
+}
+
+// checkList looks at a list that is told with its code, which has to be OK.
+func checkList[E comparable](t *testing.T, what string, got []E, code int64, want ...E) {
+	t.Helper()
+	same(t, what, code, impl.OK)
+	if !slices.Equal(got, want) {
+		t.Errorf("%s: got %#v, want %#v", what, got, want)
 	}
 }
 

@@ -246,24 +246,16 @@ func fewBounds(chain []impl.Place) []int64 {
 	return slices.Compact(list)
 }
 
-func checkPoints(t *testing.T, what string, got []int64, code int64, want ...int64) {
-	t.Helper()
-	same(t, what, code, impl.OK)
-	if !slices.Equal(got, want) {
-		t.Errorf("%s: got %v, want %v", what, got, want)
-	}
-}
-
 func checkFewest(t *testing.T, chain []impl.Place, bound int64, want ...int64) {
 	t.Helper()
 	points, code := impl.FewestPoints(chain, bound)
-	checkPoints(t, fmt.Sprint("FewestPoints ", chain, bound), points, code, want...)
+	checkList(t, fmt.Sprint("FewestPoints ", chain, bound), points, code, want...)
 }
 
 func checkLong(t *testing.T, chain []impl.Place, bound int64, want ...int64) {
 	t.Helper()
 	points, code := impl.LongSteps(chain, bound)
-	checkPoints(t, fmt.Sprint("LongSteps ", chain, bound), points, code, want...)
+	checkList(t, fmt.Sprint("LongSteps ", chain, bound), points, code, want...)
 }
 
 func checkStays(t *testing.T, chain []impl.Place, from, to, bound int64, want bool) {
@@ -666,6 +658,8 @@ func checkRefused(t *testing.T, what string, results []any, want int64) {
 		case []string:
 			same(t, what+" beside the code", len(x), 0)
 		case []impl.Place:
+			same(t, what+" beside the code", len(x), 0)
+		case []impl.Edit:
 			same(t, what+" beside the code", len(x), 0)
 		case [][]impl.Place:
 			same(t, what+" beside the code", len(x), 0)

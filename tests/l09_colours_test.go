@@ -285,7 +285,7 @@ func (c country) ruleSwap(colours []int64, land, other int64) []int64 {
 func checkNeighbours(t *testing.T, c country, land int64, want ...int64) {
 	t.Helper()
 	neighbours, code := impl.NeighboursOf(c.lands, c.list, land)
-	checkPoints(t, fmt.Sprint("NeighboursOf ", c, land), neighbours, code, want...)
+	checkList(t, fmt.Sprint("NeighboursOf ", c, land), neighbours, code, want...)
 }
 
 func checkClash(t *testing.T, c country, want int64, colours ...int64) {
@@ -301,7 +301,7 @@ func checkFewestColours(t *testing.T, c country, want int64) {
 func checkFirst(t *testing.T, c country, many int64, want ...int64) {
 	t.Helper()
 	colours, code := impl.FirstColours(c.lands, c.list, many)
-	checkPoints(t, fmt.Sprint("FirstColours ", c, many), colours, code, want...)
+	checkList(t, fmt.Sprint("FirstColours ", c, many), colours, code, want...)
 }
 
 func checkNoColours(t *testing.T, c country, many int64) {
@@ -312,7 +312,7 @@ func checkNoColours(t *testing.T, c country, many int64) {
 func checkGreedy(t *testing.T, c country, order []int64, want ...int64) {
 	t.Helper()
 	colours, code := impl.GreedyColours(c.lands, c.list, order)
-	checkPoints(t, fmt.Sprint("GreedyColours ", c, order), colours, code, want...)
+	checkList(t, fmt.Sprint("GreedyColours ", c, order), colours, code, want...)
 }
 
 func checkWays(t *testing.T, c country, many, want int64) {
@@ -323,13 +323,13 @@ func checkWays(t *testing.T, c country, many, want int64) {
 func checkSwapped(t *testing.T, c country, colours []int64, land, other int64, want ...int64) {
 	t.Helper()
 	swapped, code := impl.SwapColours(c.lands, c.list, colours, land, other)
-	checkPoints(t, fmt.Sprint("SwapColours ", c, colours, land, other), swapped, code, want...)
+	checkList(t, fmt.Sprint("SwapColours ", c, colours, land, other), swapped, code, want...)
 }
 
 func checkHard(t *testing.T, c country, want ...int64) {
 	t.Helper()
 	hard, code := impl.HardBorders(c.lands, c.list)
-	checkPoints(t, fmt.Sprint("HardBorders ", c), hard, code, want...)
+	checkList(t, fmt.Sprint("HardBorders ", c), hard, code, want...)
 }
 
 func TestLimitsOfColours(t *testing.T) {

@@ -239,18 +239,10 @@ func chainLists() [][][]impl.Place {
 	return lists
 }
 
-func checkChain(t *testing.T, what string, got []impl.Place, code int64, want ...impl.Place) {
-	t.Helper()
-	same(t, what, code, impl.OK)
-	if !slices.Equal(got, want) {
-		t.Errorf("%s: got %v, want %v", what, got, want)
-	}
-}
-
 func checkJoined(t *testing.T, a, b []impl.Place, want ...impl.Place) {
 	t.Helper()
 	joined, code := impl.JoinTwo(a, b)
-	checkChain(t, fmt.Sprint("JoinTwo ", a, b), joined, code, want...)
+	checkList(t, fmt.Sprint("JoinTwo ", a, b), joined, code, want...)
 }
 
 func checkNotJoined(t *testing.T, a, b []impl.Place, want int64) {
@@ -271,7 +263,7 @@ func checkJoinedAll(t *testing.T, list [][]impl.Place, want ...[]impl.Place) {
 func checkLoose(t *testing.T, list [][]impl.Place, want ...impl.Place) {
 	t.Helper()
 	ends, code := impl.LooseEnds(list)
-	checkChain(t, fmt.Sprint("LooseEnds ", list), ends, code, want...)
+	checkList(t, fmt.Sprint("LooseEnds ", list), ends, code, want...)
 }
 
 func checkClosed(t *testing.T, chain []impl.Place, want bool) {
@@ -287,7 +279,7 @@ func checkArea(t *testing.T, chain []impl.Place, want int64) {
 func checkTurned(t *testing.T, chain []impl.Place, want ...impl.Place) {
 	t.Helper()
 	turned, code := impl.LeftTurned(chain)
-	checkChain(t, fmt.Sprint("LeftTurned ", chain), turned, code, want...)
+	checkList(t, fmt.Sprint("LeftTurned ", chain), turned, code, want...)
 }
 
 func checkInside(t *testing.T, chain []impl.Place, x, y int64, want bool) {
@@ -303,7 +295,7 @@ func checkGreatest(t *testing.T, want int64, list ...[]impl.Place) {
 func checkMoved(t *testing.T, chain []impl.Place, x, y int64, want ...impl.Place) {
 	t.Helper()
 	moved, code := impl.MoveChain(chain, x, y)
-	checkChain(t, fmt.Sprint("MoveChain ", chain, x, y), moved, code, want...)
+	checkList(t, fmt.Sprint("MoveChain ", chain, x, y), moved, code, want...)
 }
 
 func TestLimitOfJoins(t *testing.T) {

@@ -271,20 +271,20 @@ func checkBestPlaces(t *testing.T, list []impl.Label, wantWeight int64, want ...
 	t.Helper()
 	places, weight, code := impl.BestPlaces(list)
 	what := fmt.Sprint("BestPlaces ", list)
-	checkPoints(t, what, places, code, want...)
+	checkList(t, what, places, code, want...)
 	same(t, what+": weight", weight, wantWeight)
 }
 
 func checkGreedyPlaces(t *testing.T, list []impl.Label, want ...int64) {
 	t.Helper()
 	places, code := impl.GreedyPlaces(list)
-	checkPoints(t, fmt.Sprint("GreedyPlaces ", list), places, code, want...)
+	checkList(t, fmt.Sprint("GreedyPlaces ", list), places, code, want...)
 }
 
 func checkLeftOut(t *testing.T, list []impl.Label, places []int64, want ...int64) {
 	t.Helper()
 	out, code := impl.LeftOut(list, places)
-	checkPoints(t, fmt.Sprint("LeftOut ", list, places), out, code, want...)
+	checkList(t, fmt.Sprint("LeftOut ", list, places), out, code, want...)
 }
 
 func checkFill(t *testing.T, list []impl.Label, row, want int64, places ...int64) {

@@ -320,21 +320,13 @@ func textsOf(list []string, code int64) coded[string] { return codedOf(strings.J
 func checkGiven(t *testing.T, rows []string, from, to string, want ...string) {
 	t.Helper()
 	got, code := impl.GiveLand(rows, from, to)
-	checkRows(t, fmt.Sprintf("GiveLand %q %s %s", rows, from, to), got, code, want)
+	checkList(t, fmt.Sprintf("GiveLand %q %s %s", rows, from, to), got, code, want...)
 }
 
 func checkTurnedGrid(t *testing.T, rows []string, cells int64, want ...string) {
 	t.Helper()
 	got, code := impl.TurnGrid(rows, cells)
-	checkRows(t, fmt.Sprintf("TurnGrid %q %d", rows, cells), got, code, want)
-}
-
-func checkRows(t *testing.T, what string, got []string, code int64, want []string) {
-	t.Helper()
-	same(t, what, code, impl.OK)
-	if !slices.Equal(got, want) {
-		t.Errorf("%s: got %q, want %q", what, got, want)
-	}
+	checkList(t, fmt.Sprintf("TurnGrid %q %d", rows, cells), got, code, want...)
 }
 
 func TestLimitsOfGrids(t *testing.T) {

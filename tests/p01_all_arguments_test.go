@@ -35,8 +35,9 @@ func probeTexts() []string {
 	list := []string{
 		"", " ", "a", "gore-3", "a b  c ", "-", "0", "-0", "-1", "7h00m", "13h05m", "24h00m", "h", "m", "52.00.30n 1.15.00w", "n e", ". .", "..n ..e",
 		"999999999999999999.00.00n 1.00.00e", "9223372036854775807", "\x00", "\xff\xfe", "é", "\u2003", "\ufffd", "n", "é.00.00n 0.00.00e",
+		"#", ">", "#3 - > cape-2", "#11 a > -", "#12 a > b", "#-0 a > b", "#3 - > -", "#3 a > a", "#  > ", "# - > a", "#999999999999999999 a > b", "#3 \xff > é", "#3 a\x00> b",
 	}
-	for _, s := range []string{" ", "0", "9", "a", ".", "h", "m", "n", "e", "-", "é", "\xff", "a ", "1h00m ", "0.00.00n "} {
+	for _, s := range []string{" ", "0", "9", "a", ".", "h", "m", "n", "e", "-", "é", "\xff", "a ", "1h00m ", "0.00.00n ", "#", "#3 ", "#3 a > b "} {
 		list = append(list, strings.Repeat(s, 50000))
 	}
 	return list
@@ -75,7 +76,8 @@ func textProbes(texts []string) []probe {
 			probe{"ReadDecimal " + arg, func() string { return told(impl.ReadDecimal(s)) }},
 			probe{"SplitWords " + arg, func() string { return told(impl.SplitWords(s)) }},
 			probe{"ReadHour " + arg, func() string { return told(impl.ReadHour(s)) }},
-			probe{"ReadSpot " + arg, func() string { return told(impl.ReadSpot(s)) }})
+			probe{"ReadSpot " + arg, func() string { return told(impl.ReadSpot(s)) }},
+			probe{"ReadEdit " + arg, func() string { return told(impl.ReadEdit(s)) }})
 	}
 	return list
 }
@@ -672,6 +674,80 @@ func gridProbes(lists [][]string) []probe {
 	return list
 }
 
+// probePlates returns plates, and lists of names that are none, some of them much too long; each has some capacity behind its end.
+func probePlates() [][]string {
+	lists := slices.Concat(rightPlates(), [][]string{{"-"}, {"a", "-"}, {"bay", ""}, {"a", "b", "c"}, {"isle", "", "A"}})
+	for i, names := range wrongPlates() {
+		if i < 6 || i%7 == 0 {
+			lists = append(lists, names)
+		}
+	}
+	for i, names := range lists {
+		lists[i] = append(slices.Clone(names), "spare", "-", strings.Repeat("a", 100000))[:len(names)]
+	}
+	return lists
+}
+
+// plateProbes has the calls of all functions of plates; the names of the lists are their indices.
+func plateProbes(lists [][]string) []probe {
+	r := rand.New(rand.NewSource(75))
+	var list []probe
+	for i, names := range lists {
+		arg := " plate " + fmt.Sprint(i)
+		list = append(list, probe{"ValidPlate" + arg, func() string { return told(impl.ValidPlate(names)) }})
+		for k := range 6 {
+			other, third := lists[(i+k)%len(lists)], lists[(i+6*k)%len(lists)]
+			all := arg + " " + fmt.Sprint(k)
+			list = append(list, probe{"SamePlate" + all, func() string { return told(impl.SamePlate(names, other), impl.SamePlate(other, names)) }})
+			var edits []impl.Edit
+			if impl.ValidPlate(names) {
+				edits = drawnEdits(r, names, 3*k, 2*k)
+			}
+			for _, x := range callsOfPlates(other, third, edits) {
+				list = append(list, probe{x.name + all, func() string { return told(x.call(names)...) }})
+			}
+		}
+	}
+	return list
+}
+
+// probeEdits returns lists of edits, and lists that are not valid, some of them much too long; each has some capacity behind its end.
+func probeEdits() [][]impl.Edit {
+	lists := [][]impl.Edit{nil, {}, way(0, "bay", "a", "bay"), way(2, "a", "b", "c", "a"), thereAndBackAgain(maxEdits), rightEdits()[:maxEdits]}
+	for i, c := range editCases() {
+		if i%5 == 0 {
+			lists = append(lists, c.list)
+		}
+	}
+	for i, list := range wrongEditLists() {
+		if i < 5 || i%7 == 0 {
+			lists = append(lists, list)
+		}
+	}
+	for i, list := range lists {
+		lists[i] = append(slices.Clone(list), edit(7, "a", "b"), edit(math.MinInt64, "-", strings.Repeat("a", 100000)))[:len(list)]
+	}
+	return lists
+}
+
+// editProbes has the calls of all functions of edits; the names of the lists are their indices.
+func editProbes(lists [][]impl.Edit) []probe {
+	var list []probe
+	for i, edits := range lists {
+		arg := " edits " + fmt.Sprint(i)
+		list = append(list, probe{"ValidEdits" + arg, func() string { return told(impl.ValidEdits(edits)) }})
+		for k, x := range edits[:min(len(edits), maxEdits)] {
+			list = append(list, probe{"EditText" + arg + fmt.Sprint(" ", k), func() string { return told(impl.EditText(x)) }})
+		}
+		for k, names := range [][]string{nil, plateOf("bay"), plateOf("", "a", "isle"), make([]string, maxEngraved), slices.Repeat(plateOf("a"), maxEngraved), plateOf("-")} {
+			for _, x := range callsOfEdits(names) {
+				list = append(list, probe{x.name + arg + fmt.Sprint(" plate ", k), func() string { return told(x.call(edits)...) }})
+			}
+		}
+	}
+	return list
+}
+
 // resultOf makes the call; a panic is an error.
 func (x probe) resultOf(t *testing.T) (result string) {
 	defer func() {
@@ -738,7 +814,7 @@ func TestEveryFunctionReturnsAndRepeats(t *testing.T) {
 		textProbes(texts), numberProbes(), sineProbes(), spotProbes(), goreProbes(), pairProbes(), routeProbes(routeProbeLists()),
 		capProbes(), discProbes(probeSpotLists()), chainProbes(probeChains()), pickProbes(probePoints()), mapProbes(), boxProbes(mapProbeLists()),
 		borderProbes(probeBorders()), colourProbes(probeLandNumbers()), joinProbes(probeChainsOfJoins()), joinListProbes(probeChainLists()),
-		labelProbes(probeLabelLists()), placesProbes(probePlaces()), gridProbes(probeGrids()))
+		labelProbes(probeLabelLists()), placesProbes(probePlaces()), gridProbes(probeGrids()), plateProbes(probePlates()), editProbes(probeEdits()))
 	first := make([]string, len(probes))
 	for i, x := range probes {
 		first[i] = x.resultOf(t)
@@ -1262,6 +1338,72 @@ func TestGridsAreNewMemory(t *testing.T) {
 		}
 		if !slices.Equal(rows, before) {
 			t.Errorf("the grid %d: a change of a result shows in the argument", i)
+		}
+	}
+}
+
+func TestPlatesAndEditsAreNotModified(t *testing.T) {
+	checkListsStay(t, probePlates(), plateProbes)
+	checkListsStay(t, probeEdits(), editProbes)
+}
+
+func TestEqualPlatesHaveEqualEdits(t *testing.T) {
+	checkCopies(t, probePlates(), plateProbes)
+	checkCopies(t, probeEdits(), editProbes)
+	for _, x := range callsOfPlates(plateOf("a"), plateOf("b"), nil) {
+		same(t, x.name+" without places", told(x.call(nil)...), told(x.call([]string{})...))
+	}
+	for _, names := range rightPlates() {
+		for _, x := range callsOfEdits(names) {
+			same(t, x.name+" without edits", told(x.call(nil)...), told(x.call([]impl.Edit{})...))
+		}
+	}
+}
+
+// TestPlatesAreNewMemory looks at the arguments as well: the changes of the results must not show there, also if nothing is corrected.
+func TestPlatesAreNewMemory(t *testing.T) {
+	for i, c := range editCases() {
+		names, list := slices.Clone(c.names), slices.Clone(c.list)
+		for _, edits := range [][]impl.Edit{nil, list} {
+			checkNewMemory(t, fmt.Sprint("ApplyEdits of the case ", i), "spoilt", func() []string {
+				after, _ := impl.ApplyEdits(names, edits)
+				return after
+			})
+			checkNewMemory(t, fmt.Sprint("UndoEdits of the case ", i), "spoilt", func() []string {
+				before, _ := impl.UndoEdits(names, edits)
+				return before
+			})
+		}
+		checkNewMemory(t, fmt.Sprint("ShortEdits of the case ", i), edit(-7, "spoilt", ""), func() []impl.Edit {
+			short, _ := impl.ShortEdits(list)
+			return short
+		})
+		if !slices.Equal(names, c.names) || !slices.Equal(list, c.list) {
+			t.Errorf("the case %d: a change of a result shows in an argument", i)
+		}
+	}
+}
+
+func TestMergedPlatesAreNewMemory(t *testing.T) {
+	for i, x := range plateTriples() {
+		before := [3][]string{slices.Clone(x[0]), slices.Clone(x[1]), slices.Clone(x[2])}
+		// The last two of these have the corrections of one plate only.
+		for _, plates := range [][3][]string{x, {x[0], x[1], x[1]}, {x[0], x[0], x[1]}, {x[0], x[1], x[0]}} {
+			checkNewMemory(t, fmt.Sprint("ConflictsOf of the plates ", i), -7, func() []int64 {
+				conflicts, _ := impl.ConflictsOf(plates[0], plates[1], plates[2])
+				return conflicts
+			})
+			checkNewMemory(t, fmt.Sprint("MergePlates of the plates ", i), "spoilt", func() []string {
+				merged, _ := impl.MergePlates(plates[0], plates[1], plates[2])
+				return merged
+			})
+		}
+		checkNewMemory(t, fmt.Sprint("EditsBetween of the plates ", i), edit(-7, "spoilt", ""), func() []impl.Edit {
+			list, _ := impl.EditsBetween(x[0], x[1])
+			return list
+		})
+		if !slices.EqualFunc(x[:], before[:], slices.Equal) {
+			t.Errorf("the plates %d: a change of a result shows in an argument", i)
 		}
 	}
 }

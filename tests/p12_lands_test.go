@@ -73,7 +73,7 @@ func TestTurnsAddUp(t *testing.T) {
 		for range wide {
 			turned = turnedGrid(t, turned, 1)
 		}
-		checkRows(t, fmt.Sprintf("%q after a whole turn", rows), turned, impl.OK, rows)
+		checkList(t, fmt.Sprintf("%q after a whole turn", rows), turned, impl.OK, rows...)
 	}
 }
 
